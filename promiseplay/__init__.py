@@ -1,0 +1,1 @@
+"""Promiseplay: machines that keep promises whatever they hear, see, pay and lose."""

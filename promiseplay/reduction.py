@@ -1,0 +1,55 @@
+"""Making Buchi automata smaller."""
+
+from promiseplay.buchi import Automaton, flags, successors
+from promiseplay.fairness import as_system
+from promiseplay.graphs import components, on_cycles
+from promiseplay.letters import columns_of, grouped, with_letters
+from promiseplay.operations import empty_automaton, trim
+from promiseplay.simulation import reduced
+
+# Above this product of states and states and letters, looking for followers takes too long.
+MOST_WORK = 4000000
+
+
+def smaller(automaton):
+    """An automaton that accepts the same words, often with fewer states, and never with more."""
+    automaton = trim(automaton)
+    table, firsts = grouped(columns_of(automaton.rows, automaton.letters))
+    if len(automaton.rows) * len(automaton.rows) * len(firsts) > MOST_WORK:
+        return automaton
+    few = with_more_accepting(with_letters(automaton, firsts))
+    system, starts = reduced(as_system(few), few.initial)
+    if not starts:
+        return empty_automaton(automaton.letters)
+    rows = [[sorted([target for target, _ in steps]) for steps in row] for row in system]
+    accepting = [state for state, row in enumerate(system) if not is_late(row)]
+    return trim(with_letters(Automaton(len(firsts), sorted(starts), accepting, rows), table))
+
+
+def is_late(row):
+    """Whether a state of a system with one delay puts it off."""
+    return any([late == 1 for steps in row for _, late in steps])
+
+
+def with_more_accepting(automaton):
+    """The automaton in which accepting states are on cycles, and all states that harmlessly can be accept.
+
+    That are those from which every cycle back goes through accepting states.
+    """
+    edges = successors(automaton)
+    component = components(edges)
+    cyclic = on_cycles(edges)
+    accepts_here = flags(automaton.accepting, len(edges))
+    rest = []
+    for state, targets in enumerate(edges):
+        rest.append([target for target in targets if component[target] == component[state]
+                     and not accepts_here[state] and not accepts_here[target]])
+    missing = {}
+    for state, loose in enumerate(on_cycles(rest)):
+        if loose:
+            missing[component[state]] = True
+    accepting = []
+    for state in range(len(edges)):
+        if cyclic[state] and (accepts_here[state] or component[state] not in missing):
+            accepting.append(state)
+    return Automaton(automaton.letters, automaton.initial, accepting, automaton.rows)

@@ -1,0 +1,28 @@
+"""Names of signals."""
+
+RESERVED = ("true", "false", "exists", "forall")
+
+
+def is_lower(character):
+    """Whether a character is one of the letters a to z."""
+    return "a" <= character <= "z"
+
+
+def is_digit(character):
+    """Whether a character is one of the digits 0 to 9."""
+    return "0" <= character <= "9"
+
+
+def word_end(text, start):
+    """The index behind the word that begins at start: its letters and digits."""
+    end = start
+    while end < len(text) and (is_lower(text[end]) or is_digit(text[end])):
+        end += 1
+    return end
+
+
+def is_name(text):
+    """Whether a text is the name of a signal."""
+    if text == "" or not is_lower(text[0]) or text in RESERVED:
+        return False
+    return word_end(text, 0) == len(text)
