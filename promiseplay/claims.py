@@ -23,7 +23,7 @@ class Claims:
     """
 
     def __init__(self, signals):
-        self.signals = {name: number for number, name in enumerate(signals)}
+        self.signal_numbers = {name: number for number, name in enumerate(signals)}
         self.operators = []
         self.lefts = []
         self.rights = []
@@ -68,9 +68,9 @@ class Claims:
         if operator == "false":
             return FALSE
         if operator == "signal":
-            return self.add_node("literal", self.signals[formula[1]], 1)
+            return self.add_node("literal", self.signal_numbers[formula[1]], 1)
         if operator == "not":
-            return self.add_node("literal", self.signals[formula[1][1]], 0)
+            return self.add_node("literal", self.signal_numbers[formula[1][1]], 0)
         left = self.enter(formula[1])
         if operator in ("next", "previous", "weak_previous"):
             return self.step_node(operator, left)

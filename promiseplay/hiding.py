@@ -50,12 +50,12 @@ class HiddenSearch:
         edges = []
         late = []
         while len(edges) < len(self.places):
-            steps = self.steps(self.places[len(edges)], choices)
+            steps = self.steps_from(self.places[len(edges)], choices)
             edges.append([target for target, _ in steps])
             late.append([put_off for _, put_off in steps])
         return edges, late
 
-    def steps(self, place, choices):
+    def steps_from(self, place, choices):
         """The pairs of a successor of a place and what is put off on the way."""
         turn, assets, duties = place
         later = turn + 1 if turn + 1 < len(self.letters) else self.back

@@ -7,16 +7,11 @@ from promiseplay.letters import columns_of, grouped, with_letters
 from promiseplay.operations import empty_automaton, trim
 from promiseplay.simulation import reduced
 
-# Above this product of states and states and letters, looking for followers takes too long.
-MOST_WORK = 4000000
-
 
 def smaller(automaton):
     """An automaton that accepts the same words, often with fewer states, and never with more."""
     automaton = trim(automaton)
     table, firsts = grouped(columns_of(automaton.rows, automaton.letters))
-    if len(automaton.rows) * len(automaton.rows) * len(firsts) > MOST_WORK:
-        return automaton
     few = with_more_accepting(with_letters(automaton, firsts))
     system, starts = reduced(as_system(few), few.initial)
     if not starts:

@@ -7,6 +7,9 @@ answer each of its steps by a step that puts off no more, to a state that follow
 successor again. Then it has all fair runs, too.
 """
 
+# Above this product of states and states and letters, looking for followers takes too long.
+MOST_WORK = 4000000
+
 
 def digits_of(mask):
     """The ascending list of the indexes of the binary digits 1 of a number."""
@@ -79,7 +82,9 @@ def delays_of(system):
 
 
 def followers(system):
-    """The followers of each state of a system, as digits."""
+    """The followers of each state of a system, as digits; in a large system each state alone."""
+    if system and len(system) * len(system) * len(system[0]) > MOST_WORK:
+        return [1 << state for state in range(len(system))]
     return Followers(system).find()
 
 

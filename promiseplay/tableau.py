@@ -6,9 +6,6 @@ from promiseplay.letters import with_letters
 from promiseplay.reduction import smaller
 from promiseplay.simulation import reduced
 
-# Above this number of states, looking for followers takes too long.
-MOST_STATES = 600
-
 
 class Tableau:
     """The system of a formula over the letters of names, with hidden signals behind them.
@@ -62,7 +59,7 @@ class Tableau:
             found[self.number_of(assets & self.expansion.assets_below(needed), needed)] = True
         return list(found)
 
-    def system(self):
+    def whole_system(self):
         """The system of all places that are reached from those that have a number."""
         system = []
         while len(system) < len(self.places):
@@ -74,8 +71,7 @@ def formula_automaton(formula, names, hidden):
     """A Buchi automaton of the words over names of which a formula is true for some values of hidden signals."""
     tableau = Tableau(formula, names, hidden)
     starts = tableau.starts()
-    system, starts = useful_part(tableau.system(), starts)
-    if len(system) <= MOST_STATES:
-        system, starts = reduced(system, starts)
+    system, starts = useful_part(tableau.whole_system(), starts)
+    system, starts = reduced(system, starts)
     few = smaller(fair_automaton(system, starts, len(tableau.choices)))
     return with_letters(few, tableau.table)

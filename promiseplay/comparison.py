@@ -1,0 +1,126 @@
+"""Complement, inclusion and equality of Buchi automata."""
+
+from promiseplay.buchi import flags
+from promiseplay.determinization import determinize
+from promiseplay.graphs import components, shortest_path, shortest_walk
+from promiseplay.letters import columns_of, grouped, with_letters
+from promiseplay.operations import check_same_letters, trim
+from promiseplay.parity import complement_parity, to_buchi
+from promiseplay.reduction import smaller
+from promiseplay.trees import Trees
+from promiseplay.words import normal_lasso
+
+
+def complement(automaton):
+    """A Buchi automaton that accepts exactly the words that another one does not accept."""
+    return smaller(to_buchi(complement_parity(determinize(automaton))))
+
+
+def equivalent(first, second):
+    """None if two automata accept the same words, otherwise a lasso whose word one of them accepts."""
+    found = included(first, second)
+    if found is None:
+        found = included(second, first)
+    return found
+
+
+def included(first, second):
+    """None if the second automaton accepts what the first does, otherwise a lasso that shows the opposite."""
+    check_same_letters(first, second)
+    first = trim(first)
+    second = smaller(second)
+    letters = first.letters
+    _, firsts = grouped(list(zip(columns_of(first.rows, letters), columns_of(second.rows, letters))))
+    search = Difference(with_letters(first, firsts), with_letters(second, firsts))
+    found = search.find()
+    if found is None:
+        return None
+    head, loop = found
+    return normal_lasso([firsts[group] for group in head], [firsts[group] for group in loop])
+
+
+class Difference:
+    """The search for a word that the first of two automata accepts and the second does not.
+
+    Its places are pairs of a state of the first automaton and a tree of the second.
+    """
+
+    def __init__(self, first, second):
+        self.first = first
+        self.trees = Trees(second)
+        self.accepting = flags(first.accepting, len(first.rows))
+        self.places = []
+        self.numbers = {}
+        self.known = {}
+        self.steps = []
+
+    def number_of(self, place):
+        """The number of a place, a new one if it is new."""
+        if place not in self.numbers:
+            self.numbers[place] = len(self.places)
+            self.places.append(place)
+        return self.numbers[place]
+
+    def tree_step(self, tree, letter):
+        """The tree and the priority to which a letter leads."""
+        if (tree, letter) not in self.known:
+            self.known[(tree, letter)] = self.trees.step(tree, letter)
+        return self.known[(tree, letter)]
+
+    def steps_of(self, place):
+        """The triples of a letter, a successor and a priority for a place."""
+        state, tree = place
+        steps = []
+        for letter, entry in enumerate(self.first.rows[state]):
+            if entry:
+                later, priority = self.tree_step(tree, letter)
+                for target in entry:
+                    steps.append((letter, self.number_of((target, later)), priority))
+        return steps
+
+    def find(self):
+        """The head and the loop, as lists of letters, of such a word, or None."""
+        start = self.trees.first_tree()
+        for state in self.first.initial:
+            self.number_of((state, start))
+        count = len(self.places)
+        odd = {}
+        while len(self.steps) < len(self.places):
+            steps = self.steps_of(self.places[len(self.steps)])
+            for step in steps:
+                if step[2] % 2 == 1:
+                    odd[step[2]] = True
+            self.steps.append(steps)
+        for priority in sorted(list(odd)):
+            found = self.find_with(priority, list(range(count)))
+            if found is not None:
+                return found
+        return None
+
+    def find_with(self, priority, starts):
+        """Such a word in whose loop a priority is the greatest one, or None."""
+        edges = [[target for _, target, other in steps if other <= priority] for steps in self.steps]
+        component = components(edges)
+        accepting = {}
+        for node, (state, _) in enumerate(self.places):
+            if self.accepting[state]:
+                accepting[component[node]] = True
+        for node, steps in enumerate(self.steps):
+            for letter, target, other in steps:
+                inside = component[target] == component[node]
+                if other == priority and inside and component[node] in accepting:
+                    return self.lasso_through(node, letter, target, priority, component, starts)
+        return None
+
+    def lasso_through(self, node, letter, target, priority, component, starts):
+        """The head and the loop of a run that takes a step again and again and stays in its component."""
+        free = [[(step[0], step[1]) for step in steps] for steps in self.steps]
+        head, _ = shortest_path(free, starts, flags([node], len(free)))
+        inner = []
+        for other, steps in enumerate(self.steps):
+            inner.append([(step[0], step[1]) for step in steps if step[2] <= priority
+                          and component[step[1]] == component[other] == component[node]])
+        goals = [self.accepting[state] for state, _ in self.places]
+        there, middle = shortest_path(inner, [target], goals)
+        back, _ = shortest_path(inner, [middle], flags([node], len(inner)))
+        return head, [letter] + there + back
