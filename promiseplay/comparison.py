@@ -2,7 +2,7 @@
 
 from promiseplay.buchi import flags
 from promiseplay.determinization import determinize
-from promiseplay.graphs import components, shortest_path, shortest_walk
+from promiseplay.graphs import components, shortest_path
 from promiseplay.letters import columns_of, grouped, with_letters
 from promiseplay.operations import check_same_letters, trim
 from promiseplay.parity import complement_parity, to_buchi

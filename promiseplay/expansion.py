@@ -221,8 +221,9 @@ def with_asset(ways, digit, costs):
 def best_ways(ways):
     """The list of those ways that no other way is better than, in a fixed order."""
     kept = []
-    for assets, duties, late in sorted([(duties, late, -assets) for assets, duties, late in ways]):
-        way = (-late, assets, duties)
+    # What is better has fewer duties, then fewer delays, then more assets: it stands further left.
+    for duties, late, lack in sorted([(duties, late, -assets) for assets, duties, late in ways]):
+        way = (-lack, duties, late)
         if not any([is_better(other, way) for other in kept]):
             kept.append(way)
     return kept

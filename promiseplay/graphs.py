@@ -85,7 +85,8 @@ def reached(edges, starts):
             found[node] = True
             waiting.append(node)
     while waiting:
-        for target in edges[waiting.pop()]:
+        node = waiting.pop()
+        for target in edges[node]:
             if not found[target]:
                 found[target] = True
                 waiting.append(target)

@@ -80,8 +80,9 @@ def merged_table(start, labels, rows):
     chosen = [start]
     table = []
     while len(table) < len(chosen):
+        state = chosen[len(table)]
         row = []
-        for target in rows[chosen[len(table)]]:
+        for target in rows[state]:
             if classes[target] not in numbers:
                 numbers[classes[target]] = len(chosen)
                 chosen.append(target)

@@ -106,8 +106,9 @@ def reduced(system, starts):
         new_starts.append(numbered(state, numbers, order))
     rows = []
     while len(rows) < len(order):
+        state = order[len(rows)]
         row = []
-        for steps in system[order[len(rows)]]:
+        for steps in system[state]:
             kept = best_steps([(chosen[target], late) for target, late in steps], masks)
             row.append([(numbered(target, numbers, order), late) for target, late in kept])
         rows.append(row)

@@ -1,0 +1,205 @@
+"""Slow and plain ways to find out what the program must answer, and random examples."""
+
+import itertools
+
+
+def letters_of(lasso, count):
+    """The first letters of the word of a lasso."""
+    head, loop = lasso
+    letters = list(head)
+    while len(letters) < count:
+        letters.extend(loop)
+    return letters[:count]
+
+
+def is_lasso(value):
+    """Whether a value has the form of a lasso."""
+    if not (type(value) is tuple and len(value) == 2 and type(value[0]) is tuple and type(value[1]) is tuple):
+        return False
+    return len(value[1]) > 0 and all(type(a) is int and a >= 0 for a in value[0] + value[1])
+
+
+def slow_normal(lasso):
+    """The normal form of a lasso, found by trying all shorter ones."""
+    head, loop = lasso
+    enough = 2 * (len(head) + 2 * len(loop))
+    wanted = letters_of(lasso, enough)
+    for size in range(len(head) + 1):
+        for period in range(1, len(loop) + 1):
+            found = (tuple(wanted[:size]), tuple(wanted[size:size + period]))
+            if letters_of(found, enough) == wanted:
+                return found
+    raise AssertionError("there is a normal form")
+
+
+def all_lassos(letters, heads, loops):
+    """All lassos with at most so many letters in the head and in the loop."""
+    for size in range(heads + 1):
+        for period in range(1, loops + 1):
+            for head in itertools.product(range(letters), repeat=size):
+                for loop in itertools.product(range(letters), repeat=period):
+                    yield head, loop
+
+
+def random_lasso(random, letters, heads=4, loops=4):
+    head = tuple(random.randrange(letters) for _ in range(random.randint(0, heads)))
+    return head, tuple(random.randrange(letters) for _ in range(random.randint(1, loops)))
+
+
+def slow_accepts(rows, initial, accepting, lasso):
+    """Whether a Buchi automaton accepts a word: some state comes back to itself through an accepting one."""
+    head, loop = lasso
+    states = set(initial)
+    for letter in head:
+        states = {t for s in states for t in rows[s][letter]}
+    passing = {}
+    for s in range(len(rows)):
+        now = {(s, s in accepting)}
+        for letter in loop:
+            now = {(t, seen or t in accepting) for u, seen in now for t in rows[u][letter]}
+        passing[s] = now
+    closed = {s: set(now) for s, now in passing.items()}
+    changed = True
+    while changed:
+        changed = False
+        for s in closed:
+            more = {(u, one or other) for t, one in closed[s] for u, other in passing[t]}
+            if not more <= closed[s]:
+                closed[s] |= more
+                changed = True
+    met = states | {t for s in states for t, _ in closed[s]}
+    return any((s, True) in closed[s] for s in met)
+
+
+FUTURE_ONE = ["next", "eventually", "always"]
+PAST_ONE = ["previous", "weak_previous", "once", "historically"]
+FUTURE_TWO = ["until", "weak_until", "release"]
+PAST_TWO = ["since", "trigger"]
+TEMPORAL = FUTURE_ONE + PAST_ONE + FUTURE_TWO + PAST_TWO
+ONE = ["not"] + FUTURE_ONE + PAST_ONE
+TWO = ["and", "or", "implies", "iff"] + FUTURE_TWO + PAST_TWO
+
+
+class SlowTruth:
+    """The truth of formulas by the very words of the document."""
+
+    def __init__(self, names, lasso, operators):
+        head, loop = lasso
+        self.names = list(names)
+        self.start = len(head) + operators * len(loop)
+        self.period = len(loop)
+        self.letters = letters_of(lasso, self.start + self.period)
+        self.known = {}
+
+    def at(self, formula, turn):
+        if turn >= self.start:
+            turn = self.start + (turn - self.start) % self.period
+        place = (formula, turn)
+        if place not in self.known:
+            self.known[place] = self.find(formula, turn)
+        return self.known[place]
+
+    def find(self, formula, n):
+        operator = formula[0]
+        if operator in ("true", "false"):
+            return operator == "true"
+        if operator == "signal":
+            return bool(self.letters[n] >> self.names.index(formula[1]) & 1)
+        f = formula[1]
+        g = formula[-1]
+        later = range(n, max(n, self.start) + self.period)
+        sooner = range(n + 1)
+        if operator == "not":
+            return not self.at(f, n)
+        if operator == "and":
+            return self.at(f, n) and self.at(g, n)
+        if operator == "or":
+            return self.at(f, n) or self.at(g, n)
+        if operator == "implies":
+            return not self.at(f, n) or self.at(g, n)
+        if operator == "iff":
+            return self.at(f, n) == self.at(g, n)
+        if operator == "next":
+            return self.at(f, n + 1)
+        if operator == "eventually":
+            return any(self.at(f, m) for m in later)
+        if operator == "always":
+            return all(self.at(f, m) for m in later)
+        if operator in ("until", "weak_until"):
+            if operator == "weak_until" and all(self.at(f, m) for m in later):
+                return True
+            return any(self.at(g, m) and all(self.at(f, k) for k in range(n, m)) for m in later)
+        if operator == "release":
+            return all(self.at(g, m) or any(self.at(f, k) for k in range(n, m)) for m in later)
+        if operator == "previous":
+            return n >= 1 and self.at(f, n - 1)
+        if operator == "weak_previous":
+            return n == 0 or self.at(f, n - 1)
+        if operator == "once":
+            return any(self.at(f, m) for m in sooner)
+        if operator == "historically":
+            return all(self.at(f, m) for m in sooner)
+        if operator == "since":
+            return any(self.at(g, m) and all(self.at(f, k) for k in range(m + 1, n + 1)) for m in sooner)
+        assert operator == "trigger"
+        return all(self.at(g, m) or any(self.at(f, k) for k in range(m + 1, n + 1)) for m in sooner)
+
+
+def slow_holds(formula, names, lasso, turn=0):
+    """Whether a formula is true at a turn."""
+    return SlowTruth(names, lasso, 9).at(formula, turn)
+
+
+def random_formula(random, names, temporal=4, doubling=2, depth=5):
+    """A formula with at most so many temporal operators and so many operators iff and weak_until."""
+    return grow(random, names, {"temporal": temporal, "doubling": doubling}, depth)
+
+
+def grow(random, names, left, depth):
+    if depth <= 1 or random.random() < 0.1:
+        if names and random.random() < 0.92:
+            return ("signal", random.choice(names))
+        return (random.choice(["true", "false"]),)
+    fits = [operator for operator in ONE + TWO
+            if not (operator in TEMPORAL and left["temporal"] == 0)
+            and not (operator in ("iff", "weak_until") and left["doubling"] == 0)]
+    operator = random.choice(fits)
+    left["temporal"] -= operator in TEMPORAL
+    left["doubling"] -= operator in ("iff", "weak_until")
+    first = grow(random, names, left, depth - 1)
+    if operator in ONE:
+        return (operator, first)
+    return (operator, first, grow(random, names, left, depth - 1))
+
+
+def random_automaton(random, states=4, letters=3):
+    """The arguments of a Buchi automaton."""
+    n = random.randint(1, states)
+    m = random.randint(1, letters)
+    dense = random.choice([0.2, 0.35, 0.5, 0.7])
+    rows = [[[t for t in range(n) if random.random() < dense] for _ in range(m)] for _ in range(n)]
+    initial = [s for s in range(n) if random.random() < 0.6]
+    accepting = [s for s in range(n) if random.random() < 0.4]
+    return m, initial, accepting, rows
+
+
+def random_parity(random, states=5, letters=3, priorities=6):
+    """The arguments of a parity automaton."""
+    n = random.randint(1, states)
+    m = random.randint(1, letters)
+    rows = [[random.randrange(n) for _ in range(m)] for _ in range(n)]
+    return m, random.randrange(n), [random.randrange(priorities) for _ in range(n)], rows
+
+
+def slow_accepts_parity(start, priorities, rows, lasso):
+    """Whether a parity automaton accepts a word: run long enough, then look at one more long stretch."""
+    head, loop = lasso
+    state = start
+    for letter in list(head) + list(loop) * len(rows):
+        state = rows[state][letter]
+    seen = []
+    for letter in list(loop) * len(rows):
+        state = rows[state][letter]
+        seen.append(priorities[state])
+    # After len(rows) loops the states at the beginnings of loops repeat within len(rows) loops.
+    return max(seen) % 2 == 0
