@@ -99,7 +99,7 @@ class Difference:
 
     def find_with(self, priority, starts):
         """Such a word in whose loop a priority is the greatest one, or None."""
-        edges = [[target for _, target, other in steps if other <= priority] for steps in self.steps]
+        edges = [[step[1] for step in steps if step[2] <= priority] for steps in self.steps]
         component = components(edges)
         accepting = {}
         for node, (state, _) in enumerate(self.places):

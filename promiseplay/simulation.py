@@ -8,7 +8,7 @@ successor again. Then it has all fair runs, too.
 """
 
 # Above this product of states and states and letters, looking for followers takes too long.
-MOST_WORK = 4000000
+MOST_WORK = 16000000
 
 
 def digits_of(mask):
