@@ -1,75 +1,93 @@
 """The search for values of hidden signals that make a formula true on a word."""
 
-from promiseplay.expansion import Expansion
+from promiseplay.expansion import Expansion, best_ways
 from promiseplay.graphs import components
 
 
 def some_values_hold(formula, names, hidden, lasso, turn):
     """Whether the hidden signals have values with which a formula is true at a turn."""
-    search = HiddenSearch(formula, list(names) + list(hidden), lasso, turn)
-    widths = 1 << len(names)
-    choices = [value * widths for value in range(1 << len(hidden))]
-    edges, late = search.graph(choices)
+    search = HiddenSearch(formula, list(names), list(hidden), turn)
+    head, loop = lasso
+    letters = list(head)
+    # The turn comes ahead of the loop, so that the formula is asked for only once.
+    while len(letters) <= turn:
+        letters.extend(loop)
+    edges, late = search.loop_graph(loop, search.places_behind(letters))
     return has_fair_cycle(edges, late)
 
 
 class HiddenSearch:
     """The runs of a formula over a word whose hidden signals are free.
 
-    A place is a turn, the assets and the duties. Ahead of the turn at which the
-    formula is to be true there are duties only where an asset costs some.
+    Ahead of the turn at which the formula is to be true there are duties only where
+    an asset costs some.
     """
 
-    def __init__(self, formula, signals, lasso, turn):
-        head, loop = lasso
-        rounds = 0
-        while len(head) + rounds * len(loop) <= turn:
-            rounds += 1
-        self.letters = tuple(head) + tuple(loop) * (rounds + 1)
-        self.back = len(head) + rounds * len(loop)
+    def __init__(self, formula, names, hidden, turn):
+        self.expansion = Expansion(formula, names + hidden)
+        self.choices = [value << len(names) for value in range(1 << len(hidden))]
         self.turn = turn
-        self.expansion = Expansion(formula, signals)
         self.needed = self.expansion.duty(self.expansion.root)
         self.matter = self.expansion.assets_below(self.needed)
-        self.places = []
-        self.numbers = {}
+        self.known = {}
+        self.known_places = {}
 
-    def number_of(self, turn, assets, duties):
-        """The number of a place, a new one if it is new."""
-        if turn == self.turn:
-            duties |= self.needed
-        place = (turn, assets, duties)
-        if place not in self.numbers:
-            self.numbers[place] = len(self.places)
-            self.places.append(place)
-        return self.numbers[place]
+    def ways(self, letter, assets, duties, kept):
+        """The best ways to go on with a letter and any values of the hidden signals."""
+        place = (letter, assets, duties, kept)
+        if place not in self.known:
+            kinds = {self.expansion.kind(letter + choice): True for choice in self.choices}
+            found = []
+            for kind in kinds:
+                found = found + self.expansion.moves(kind, assets, duties, kept)
+            self.known[place] = best_ways(found)
+        return self.known[place]
 
-    def graph(self, choices):
-        """The successors of all places that are reached, and what is put off on the way to each."""
-        self.number_of(0, self.expansion.claims.first_assets(), 0)
+    def places_behind(self, letters):
+        """The best pairs of assets and duties that a run can have when it has read letters."""
+        places = ((self.expansion.claims.first_assets(), 0),)
+        for turn, letter in enumerate(letters):
+            if turn == self.turn:
+                places = tuple([(assets, duties | self.needed) for assets, duties in places])
+            places = self.places_after(letter, places, self.matter if turn < self.turn else 0)
+        return places
+
+    def places_after(self, letter, places, kept):
+        """The best pairs of assets and duties behind a letter, which may be many turns the same."""
+        place = (letter, places, kept)
+        if place not in self.known_places:
+            ways = []
+            for assets, duties in places:
+                # What is put off in finitely many turns does not count.
+                ways.extend([(more, later, 0) for more, later, _ in self.ways(letter, assets, duties, kept)])
+            self.known_places[place] = tuple([(assets, duties) for assets, duties, _ in best_ways(ways)])
+        return self.known_places[place]
+
+    def loop_graph(self, loop, starts):
+        """The graph of the runs over a loop, and what is put off at each of its edges."""
+        places = [(0, assets, duties) for assets, duties in starts]
+        numbers = {place: number for number, place in enumerate(places)}
         edges = []
         late = []
-        while len(edges) < len(self.places):
-            steps = self.steps_from(self.places[len(edges)], choices)
-            edges.append([target for target, _ in steps])
-            late.append([put_off for _, put_off in steps])
+        while len(edges) < len(places):
+            turn, assets, duties = places[len(edges)]
+            later = (turn + 1) % len(loop)
+            targets = []
+            delays = []
+            for more, needed, put_off in self.ways(loop[turn], assets, duties, 0):
+                place = (later, more, needed)
+                if place not in numbers:
+                    numbers[place] = len(places)
+                    places.append(place)
+                targets.append(numbers[place])
+                delays.append(put_off)
+            edges.append(targets)
+            late.append(delays)
         return edges, late
-
-    def steps_from(self, place, choices):
-        """The pairs of a successor of a place and what is put off on the way."""
-        turn, assets, duties = place
-        later = turn + 1 if turn + 1 < len(self.letters) else self.back
-        kept = self.matter if turn < self.turn else 0
-        kinds = {self.expansion.kind(self.letters[turn] + choice): True for choice in choices}
-        steps = {}
-        for kind in kinds:
-            for more, needed, put_off in self.expansion.moves(kind, assets, duties, kept):
-                steps[(self.number_of(later, more, needed), put_off)] = True
-        return list(steps)
 
 
 def has_fair_cycle(edges, late):
-    """Whether some component has a cycle on which nothing is put off on all edges.
+    """Whether in some component with a cycle no digit is put off at all edges.
 
     late has a number for each edge, whose digits tell what is put off there.
     """
