@@ -2,6 +2,7 @@
 
 from promiseplay.errors import InvalidAutomaton
 from promiseplay.graphs import on_cycles, shortest_path, shortest_walk
+from promiseplay.places import Places, ascends
 from promiseplay.words import check_letters, normal_lasso
 
 
@@ -11,26 +12,17 @@ class Automaton:
     def __init__(self, letters, initial, accepting, rows):
         if letters < 1 or len(rows) == 0:
             raise InvalidAutomaton("there is no letter or no state")
-        check_states(initial, len(rows))
-        check_states(accepting, len(rows))
+        if not ascends(initial, len(rows)) or not ascends(accepting, len(rows)):
+            raise InvalidAutomaton("a list of states is wrong")
         for row in rows:
             if len(row) != letters:
                 raise InvalidAutomaton("a row does not have one entry for each letter")
-            for entry in row:
-                check_states(entry, len(rows))
+            if not all([ascends(entry, len(rows)) for entry in row]):
+                raise InvalidAutomaton("a list of successors is wrong")
         self.letters = letters
         self.initial = tuple(initial)
         self.accepting = tuple(accepting)
         self.rows = tuple([tuple([tuple(entry) for entry in row]) for row in rows])
-
-
-def check_states(states, count):
-    """Raise InvalidAutomaton if a list does not ascend strictly among the states."""
-    before = -1
-    for state in states:
-        if state <= before or state >= count:
-            raise InvalidAutomaton("a list of states is wrong")
-        before = state
 
 
 def flags(states, count):
@@ -75,27 +67,21 @@ def accepts(automaton, lasso):
 
 
 def runs(automaton, lasso):
-    """The places of all runs on a lasso, pairs of a turn and a state, and the graph of them.
+    """The list of the places of all runs on a lasso, pairs of a turn and a state, and the graph of them.
 
     The turns are those of the head and of one loop.
     """
     head, loop = lasso
     letters = tuple(head) + tuple(loop)
-    places = [(0, state) for state in automaton.initial]
-    numbers = {place: number for number, place in enumerate(places)}
+    places = Places()
+    for state in automaton.initial:
+        places.number_of((0, state))
     edges = []
-    while len(edges) < len(places):
-        turn, state = places[len(edges)]
+    while places.waits(edges):
+        turn, state = places.first_without(edges)
         later = turn + 1 if turn + 1 < len(letters) else len(head)
-        targets = []
-        for target in automaton.rows[state][letters[turn]]:
-            place = (later, target)
-            if place not in numbers:
-                numbers[place] = len(places)
-                places.append(place)
-            targets.append(numbers[place])
-        edges.append(targets)
-    return places, edges
+        edges.append([places.number_of((later, target)) for target in automaton.rows[state][letters[turn]]])
+    return places.order, edges
 
 
 def find_word(automaton):

@@ -6,6 +6,7 @@ from promiseplay.graphs import components, shortest_path
 from promiseplay.letters import columns_of, grouped, with_letters
 from promiseplay.operations import check_same_letters, trim
 from promiseplay.parity import complement_parity, to_buchi
+from promiseplay.places import Places
 from promiseplay.reduction import smaller
 from promiseplay.trees import Trees
 from promiseplay.words import normal_lasso
@@ -49,17 +50,9 @@ class Difference:
         self.first = first
         self.trees = Trees(second)
         self.accepting = flags(first.accepting, len(first.rows))
-        self.places = []
-        self.numbers = {}
+        self.places = Places()
         self.known = {}
         self.steps = []
-
-    def number_of(self, place):
-        """The number of a place, a new one if it is new."""
-        if place not in self.numbers:
-            self.numbers[place] = len(self.places)
-            self.places.append(place)
-        return self.numbers[place]
 
     def tree_step(self, tree, letter):
         """The tree and the priority to which a letter leads."""
@@ -75,24 +68,24 @@ class Difference:
             if entry:
                 later, priority = self.tree_step(tree, letter)
                 for target in entry:
-                    steps.append((letter, self.number_of((target, later)), priority))
+                    steps.append((letter, self.places.number_of((target, later)), priority))
         return steps
 
     def find(self):
         """The head and the loop, as lists of letters, of such a word, or None."""
         start = self.trees.first_tree()
         for state in self.first.initial:
-            self.number_of((state, start))
-        count = len(self.places)
+            self.places.number_of((state, start))
+        starts = list(range(len(self.places.order)))
         odd = {}
-        while len(self.steps) < len(self.places):
-            steps = self.steps_of(self.places[len(self.steps)])
+        while self.places.waits(self.steps):
+            steps = self.steps_of(self.places.first_without(self.steps))
             for step in steps:
                 if step[2] % 2 == 1:
                     odd[step[2]] = True
             self.steps.append(steps)
         for priority in sorted(list(odd)):
-            found = self.find_with(priority, list(range(count)))
+            found = self.find_with(priority, starts)
             if found is not None:
                 return found
         return None
@@ -102,7 +95,7 @@ class Difference:
         edges = [[step[1] for step in steps if step[2] <= priority] for steps in self.steps]
         component = components(edges)
         accepting = {}
-        for node, (state, _) in enumerate(self.places):
+        for node, (state, _) in enumerate(self.places.order):
             if self.accepting[state]:
                 accepting[component[node]] = True
         for node, steps in enumerate(self.steps):
@@ -120,7 +113,7 @@ class Difference:
         for other, steps in enumerate(self.steps):
             inner.append([(step[0], step[1]) for step in steps if step[2] <= priority
                           and component[step[1]] == component[other] == component[node]])
-        goals = [self.accepting[state] for state, _ in self.places]
+        goals = [self.accepting[state] for state, _ in self.places.order]
         there, middle = shortest_path(inner, [target], goals)
         back, _ = shortest_path(inner, [middle], flags([node], len(inner)))
         return head, [letter] + there + back

@@ -2,6 +2,7 @@
 
 from promiseplay.letters import columns_of, grouped, with_letters
 from promiseplay.parity import ParityAutomaton, quotient
+from promiseplay.places import Places
 from promiseplay.priorities import small_priorities
 from promiseplay.reduction import smaller
 from promiseplay.trees import Trees
@@ -19,39 +20,25 @@ def determinize(automaton):
 
 def all_trees(trees, letters):
     """The graph of all trees that are reached, the first one being the start, and the priorities of its edges."""
-    found = [trees.first_tree()]
-    numbers = {found[0]: 0}
+    places = Places()
+    places.number_of(trees.first_tree())
     edges = []
     priorities = []
-    while len(edges) < len(found):
-        row = []
-        told = []
-        for letter in range(letters):
-            tree, priority = trees.step(found[len(edges)], letter)
-            if tree not in numbers:
-                numbers[tree] = len(found)
-                found.append(tree)
-            row.append(numbers[tree])
-            told.append(priority)
-        edges.append(row)
-        priorities.append(told)
+    while places.waits(edges):
+        tree = places.first_without(edges)
+        steps = [trees.step(tree, letter) for letter in range(letters)]
+        edges.append([places.number_of(later) for later, _ in steps])
+        priorities.append([priority for _, priority in steps])
     return edges, priorities
 
 
 def with_priorities(edges, priorities):
     """The quotient of the parity automaton whose runs have the priorities of the edges of a graph."""
     arriving = [priorities[node][k] for node, row in enumerate(edges) for k, target in enumerate(row) if target == 0]
-    places = [(0, min(arriving, default=0))]
-    numbers = {places[0]: 0}
+    places = Places()
+    places.number_of((0, min(arriving, default=0)))
     rows = []
-    while len(rows) < len(places):
-        node = places[len(rows)][0]
-        row = []
-        for k, target in enumerate(edges[node]):
-            place = (target, priorities[node][k])
-            if place not in numbers:
-                numbers[place] = len(places)
-                places.append(place)
-            row.append(numbers[place])
-        rows.append(row)
-    return quotient(ParityAutomaton(len(edges[0]), 0, [priority for _, priority in places], rows))
+    while places.waits(rows):
+        node, _ = places.first_without(rows)
+        rows.append([places.number_of((target, priorities[node][k])) for k, target in enumerate(edges[node])])
+    return quotient(ParityAutomaton(len(edges[0]), 0, [priority for _, priority in places.order], rows))

@@ -3,6 +3,7 @@
 from promiseplay.buchi import Automaton
 from promiseplay.graphs import components, reached, reversed_edges
 from promiseplay.operations import empty_automaton
+from promiseplay.places import Places
 
 
 def targets_of(system):
@@ -65,15 +66,7 @@ class Levels:
         self.component = components(targets_of(system))
         self.inner = inner_delays(system, self.component)
         self.awaited = [self.digits_awaited(number) for number in self.component]
-        self.places = []
-        self.numbers = {}
-
-    def number_of(self, place):
-        """The number of a place, a new one if it is new."""
-        if place not in self.numbers:
-            self.numbers[place] = len(self.places)
-            self.places.append(place)
-        return self.numbers[place]
+        self.places = Places()
 
     def digits_awaited(self, number):
         """The ascending list of the digits that are waited for in a component."""
@@ -109,7 +102,7 @@ class Levels:
         for steps in self.system[place[0]]:
             targets = {}
             for target, late in steps:
-                targets[self.number_of(self.step(place, target, late))] = True
+                targets[self.places.number_of(self.step(place, target, late))] = True
             row.append(sorted(list(targets)))
         return row
 
@@ -118,14 +111,14 @@ def fair_automaton(system, starts, letters):
     """The Buchi automaton of the words that have a fair run from the starts of a system."""
     levels = Levels(system)
     for start in starts:
-        levels.number_of(levels.entrance(start))
-    initial = list(range(len(levels.places)))
+        levels.places.number_of(levels.entrance(start))
+    initial = list(range(len(levels.places.order)))
     rows = []
-    while len(rows) < len(levels.places):
-        rows.append(levels.row_of(levels.places[len(rows)]))
+    while levels.places.waits(rows):
+        rows.append(levels.row_of(levels.places.first_without(rows)))
     if not rows:
         return empty_automaton(letters)
-    accepting = [number for number, place in enumerate(levels.places) if levels.is_accepting(place)]
+    accepting = [number for number, place in enumerate(levels.places.order) if levels.is_accepting(place)]
     return Automaton(letters, initial, accepting, rows)
 
 

@@ -2,6 +2,7 @@
 
 from promiseplay.errors import InvalidGame, InvalidPosition
 from promiseplay.graphs import on_cycles, reached, reversed_edges
+from promiseplay.places import ascends
 
 
 class Game:
@@ -17,21 +18,11 @@ class Game:
         if min(priorities) < 0:
             raise InvalidGame("a priority is negative")
         for targets in moves:
-            check_moves(targets, count)
+            if len(targets) == 0 or not ascends(targets, count):
+                raise InvalidGame("a position has no move, or a list of moves is wrong")
         self.owners = tuple(owners)
         self.priorities = tuple(priorities)
         self.moves = tuple([tuple(targets) for targets in moves])
-
-
-def check_moves(targets, count):
-    """Raise InvalidGame if a list is empty or does not ascend strictly among the positions."""
-    if len(targets) == 0:
-        raise InvalidGame("a position has no move")
-    before = -1
-    for target in targets:
-        if target <= before or target >= count:
-            raise InvalidGame("a list of moves is wrong")
-        before = target
 
 
 def check_position(game, position):

@@ -2,6 +2,7 @@
 
 from promiseplay.expansion import Expansion, best_ways
 from promiseplay.graphs import components
+from promiseplay.places import Places
 
 
 def some_values_hold(formula, names, hidden, lasso, turn):
@@ -65,24 +66,17 @@ class HiddenSearch:
 
     def loop_graph(self, loop, starts):
         """The graph of the runs over a loop, and what is put off at each of its edges."""
-        places = [(0, assets, duties) for assets, duties in starts]
-        numbers = {place: number for number, place in enumerate(places)}
+        places = Places()
+        for assets, duties in starts:
+            places.number_of((0, assets, duties))
         edges = []
         late = []
-        while len(edges) < len(places):
-            turn, assets, duties = places[len(edges)]
+        while places.waits(edges):
+            turn, assets, duties = places.first_without(edges)
             later = (turn + 1) % len(loop)
-            targets = []
-            delays = []
-            for more, needed, put_off in self.ways(loop[turn], assets, duties, 0):
-                place = (later, more, needed)
-                if place not in numbers:
-                    numbers[place] = len(places)
-                    places.append(place)
-                targets.append(numbers[place])
-                delays.append(put_off)
-            edges.append(targets)
-            late.append(delays)
+            ways = self.ways(loop[turn], assets, duties, 0)
+            edges.append([places.number_of((later, more, needed)) for more, needed, _ in ways])
+            late.append([put_off for _, _, put_off in ways])
         return edges, late
 
 

@@ -1,6 +1,7 @@
 """Letters that an automaton does not tell apart."""
 
 from promiseplay.buchi import Automaton
+from promiseplay.places import Places
 
 
 def grouped(columns):
@@ -8,14 +9,9 @@ def grouped(columns):
 
     Equal columns are in one group; groups are numbered in the order of their first columns.
     """
-    groups = {}
-    table = []
-    firsts = []
-    for index, column in enumerate(columns):
-        if column not in groups:
-            groups[column] = len(firsts)
-            firsts.append(index)
-        table.append(groups[column])
+    groups = Places()
+    table = [groups.number_of(column) for column in columns]
+    firsts = [table.index(group) for group in range(len(groups.order))]
     return table, firsts
 
 

@@ -3,6 +3,7 @@
 from promiseplay.buchi import Automaton, flags, successors
 from promiseplay.errors import Mismatch
 from promiseplay.graphs import on_cycles, reached, reversed_edges
+from promiseplay.places import Places
 
 
 def check_same_letters(first, second):
@@ -39,11 +40,11 @@ def intersection(first, second):
     product = Product(first, second)
     for left in first.initial:
         for right in second.initial:
-            product.number_of((left, right, 0))
-    initial = list(range(len(product.places)))
+            product.places.number_of((left, right, 0))
+    initial = list(range(len(product.places.order)))
     rows = []
-    while len(rows) < len(product.places):
-        rows.append(product.row_of(product.places[len(rows)]))
+    while product.places.waits(rows):
+        rows.append(product.row_of(product.places.first_without(rows)))
     if not rows:
         return empty_automaton(first.letters)
     return trim(Automaton(first.letters, initial, product.accepting_places(), rows))
@@ -60,15 +61,7 @@ class Product:
         self.first = first
         self.second = second
         self.marks = (flags(first.accepting, len(first.rows)), flags(second.accepting, len(second.rows)))
-        self.places = []
-        self.numbers = {}
-
-    def number_of(self, place):
-        """The number of a place, a new one if it is new."""
-        if place not in self.numbers:
-            self.numbers[place] = len(self.places)
-            self.places.append(place)
-        return self.numbers[place]
+        self.places = Places()
 
     def row_of(self, place):
         """The row of a place."""
@@ -80,13 +73,13 @@ class Product:
             targets = []
             for one in self.first.rows[left][letter]:
                 for other in self.second.rows[right][letter]:
-                    targets.append(self.number_of((one, other, waiting)))
+                    targets.append(self.places.number_of((one, other, waiting)))
             row.append(sorted(targets))
         return row
 
     def accepting_places(self):
         """The numbers of the places at which the first automaton accepts when it is waited for."""
-        return [k for k, place in enumerate(self.places) if place[2] == 0 and self.marks[0][place[0]]]
+        return [k for k, place in enumerate(self.places.order) if place[2] == 0 and self.marks[0][place[0]]]
 
 
 def hide(automaton, letters):

@@ -4,6 +4,7 @@ from promiseplay.buchi import Automaton
 from promiseplay.errors import InvalidAutomaton
 from promiseplay.letters import columns_of, grouped
 from promiseplay.operations import trim
+from promiseplay.places import Places
 from promiseplay.refinement import merged_table
 from promiseplay.words import check_letters
 
@@ -68,13 +69,14 @@ def to_buchi(parity):
     and that no greater one will occur from then on.
     """
     guess = Guess(parity)
-    guess.number_of((parity.start, -1))
-    guess.number_of((parity.start, parity.priorities[parity.start]))
-    initial = list(range(len(guess.places)))
+    initial = guess.numbers_of((parity.start, -1)) + guess.numbers_of((parity.start, parity.priorities[parity.start]))
     rows = []
-    while len(rows) < len(guess.places):
-        rows.append(guess.row_of(guess.places[len(rows)]))
-    accepting = [number for number, (state, most) in enumerate(guess.places) if parity.priorities[state] == most]
+    while guess.places.waits(rows):
+        rows.append(guess.row_of(guess.places.first_without(rows)))
+    accepting = []
+    for number, (state, most) in enumerate(guess.places.order):
+        if parity.priorities[state] == most:
+            accepting.append(number)
     return trim(Automaton(parity.letters, initial, accepting, rows))
 
 
@@ -83,26 +85,22 @@ class Guess:
 
     def __init__(self, parity):
         self.parity = parity
-        self.places = []
-        self.numbers = {}
+        self.places = Places()
 
-    def number_of(self, place):
-        """The number of a place in a list, a new one if it is new; the empty list if the place is no guess."""
+    def numbers_of(self, place):
+        """The list with the number of a place, the empty list if the place is no guess that can be right."""
         state, most = place
         if most >= 0 and (most % 2 == 1 or self.parity.priorities[state] > most):
             return []
-        if place not in self.numbers:
-            self.numbers[place] = len(self.places)
-            self.places.append(place)
-        return [self.numbers[place]]
+        return [self.places.number_of(place)]
 
     def row_of(self, place):
         """The row of a place."""
         state, most = place
         row = []
         for target in self.parity.rows[state]:
-            entry = self.number_of((target, most))
+            entry = self.numbers_of((target, most))
             if most == -1:
-                entry = entry + self.number_of((target, self.parity.priorities[target]))
+                entry = entry + self.numbers_of((target, self.parity.priorities[target]))
             row.append(sorted(entry))
         return row

@@ -1,5 +1,7 @@
 """The coarsest partition of states that looks alike from each state of a part."""
 
+from promiseplay.places import Places
+
 
 class Partition:
     """A partition of the states of a table with one successor for each letter.
@@ -76,16 +78,13 @@ def merged_table(start, labels, rows):
     first reached, and the rows with the numbers of these classes.
     """
     classes = coarsest(labels, rows)
-    numbers = {classes[start]: 0}
-    chosen = [start]
+    members = {}
+    for state, number in enumerate(classes):
+        members[number] = state
+    places = Places()
+    places.number_of(classes[start])
     table = []
-    while len(table) < len(chosen):
-        state = chosen[len(table)]
-        row = []
-        for target in rows[state]:
-            if classes[target] not in numbers:
-                numbers[classes[target]] = len(chosen)
-                chosen.append(target)
-            row.append(numbers[classes[target]])
-        table.append(row)
-    return chosen, table
+    while places.waits(table):
+        state = members[places.first_without(table)]
+        table.append([places.number_of(classes[target]) for target in rows[state]])
+    return [members[number] for number in places.order], table

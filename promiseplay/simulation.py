@@ -6,6 +6,7 @@ put off at all of its steps from some turn on. A state follows another one if it
 answer each of its steps by a step that puts off no more, to a state that follows the
 successor again. Then it has all fair runs, too.
 """
+from promiseplay.places import Places
 
 # Above this product of states and states and letters, looking for followers takes too long.
 MOST_WORK = 16000000
@@ -99,28 +100,18 @@ def reduced(system, starts):
     for state, mask in enumerate(masks):
         alike = [other for other in digits_of(mask) if (masks[other] >> state) & 1]
         chosen.append(alike[0])
-    numbers = {}
-    order = []
+    places = Places()
     new_starts = []
     for state in best_states([chosen[start] for start in starts], masks):
-        new_starts.append(numbered(state, numbers, order))
+        new_starts.append(places.number_of(state))
     rows = []
-    while len(rows) < len(order):
-        state = order[len(rows)]
+    while places.waits(rows):
         row = []
-        for steps in system[state]:
+        for steps in system[places.first_without(rows)]:
             kept = best_steps([(chosen[target], late) for target, late in steps], masks)
-            row.append([(numbered(target, numbers, order), late) for target, late in kept])
+            row.append([(places.number_of(target), late) for target, late in kept])
         rows.append(row)
     return rows, new_starts
-
-
-def numbered(state, numbers, order):
-    """The number of a state in the order of the states, a new one if it is new."""
-    if state not in numbers:
-        numbers[state] = len(order)
-        order.append(state)
-    return numbers[state]
 
 
 def best_states(states, masks):

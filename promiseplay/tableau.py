@@ -3,6 +3,7 @@
 from promiseplay.expansion import Expansion, best_ways
 from promiseplay.fairness import fair_automaton, useful_part
 from promiseplay.letters import with_letters
+from promiseplay.places import Places
 from promiseplay.reduction import smaller
 from promiseplay.simulation import reduced
 
@@ -17,28 +18,16 @@ class Tableau:
         self.expansion = Expansion(formula, list(names) + list(hidden))
         self.choices = []
         self.table = []
-        self.places = []
-        self.numbers = {}
+        self.places = Places()
         self.group_letters(1 << len(names), 1 << len(hidden))
 
     def group_letters(self, letters, values):
         """Find the kinds of the letters, each with what the hidden signals let it be."""
-        groups = {}
+        groups = Places()
         for letter in range(letters):
             kinds = {self.expansion.kind(letter + letters * value): True for value in range(values)}
-            choice = tuple(sorted(list(kinds)))
-            if choice not in groups:
-                groups[choice] = len(self.choices)
-                self.choices.append(choice)
-            self.table.append(groups[choice])
-
-    def number_of(self, assets, duties):
-        """The number of a place, a new one if it is new."""
-        place = (assets, duties)
-        if place not in self.numbers:
-            self.numbers[place] = len(self.places)
-            self.places.append(place)
-        return self.numbers[place]
+            self.table.append(groups.number_of(tuple(sorted(list(kinds)))))
+        self.choices = list(groups.order)
 
     def row_of(self, place):
         """The steps of a place for each kind of letters."""
@@ -47,7 +36,8 @@ class Tableau:
             ways = []
             for kind in choice:
                 ways = ways + self.expansion.moves(kind, place[0], place[1])
-            row.append([(self.number_of(assets, duties), late) for assets, duties, late in best_ways(ways)])
+            best = best_ways(ways)
+            row.append([(self.places.number_of((assets, duties)), late) for assets, duties, late in best])
         return row
 
     def starts(self):
@@ -56,14 +46,14 @@ class Tableau:
         found = {}
         for number in self.expansion.claims.alternatives(self.expansion.root):
             needed = self.expansion.duty(number)
-            found[self.number_of(assets & self.expansion.assets_below(needed), needed)] = True
+            found[self.places.number_of((assets & self.expansion.assets_below(needed), needed))] = True
         return list(found)
 
     def whole_system(self):
         """The system of all places that are reached from those that have a number."""
         system = []
-        while len(system) < len(self.places):
-            system.append(self.row_of(self.places[len(system)]))
+        while self.places.waits(system):
+            system.append(self.row_of(self.places.first_without(system)))
         return system
 
 
