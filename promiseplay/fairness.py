@@ -19,10 +19,10 @@ def targets_of(system):
 
 
 def inner_delays(system, component):
-    """For each component with a step inside it the pair of all and of no common delays of these steps.
+    """What is put off inside each component that has a step inside it.
 
-    The first number has the digits that are put off at all steps inside, the second
-    one those that are put off at some step inside.
+    That is a pair of numbers: the digits that are put off at all steps inside, and
+    those that are put off at some step inside.
     """
     inner = {}
     for state, row in enumerate(system):

@@ -27,9 +27,9 @@ def is_late(row):
 
 
 def with_more_accepting(automaton):
-    """The automaton in which accepting states are on cycles, and all states that harmlessly can be accept.
+    """The automaton in which no state accepts that is on no cycle, and as many others as possible do.
 
-    That are those from which every cycle back goes through accepting states.
+    All states of a component may accept if each cycle in it goes through an accepting state.
     """
     edges = successors(automaton)
     component = components(edges)
