@@ -33,7 +33,7 @@ def included(first, second):
     letters = first.letters
     _, firsts = grouped(list(zip(columns_of(first.rows, letters), columns_of(second.rows, letters))))
     search = Difference(with_letters(first, firsts), with_letters(second, firsts))
-    found = search.find()
+    found = search.find_lasso()
     if found is None:
         return None
     head, loop = found
@@ -71,7 +71,7 @@ class Difference:
                     steps.append((letter, self.places.number_of((target, later)), priority))
         return steps
 
-    def find(self):
+    def find_lasso(self):
         """The head and the loop, as lists of letters, of such a word, or None."""
         start = self.trees.first_tree()
         for state in self.first.initial:

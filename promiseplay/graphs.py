@@ -9,7 +9,7 @@ class Search:
         self.entered = [-1] * len(edges)
         self.low = [0] * len(edges)
         self.component = [-1] * len(edges)
-        self.count = 0
+        self.total = 0
         self.clock = 0
         self.path = []
         self.open_nodes = []
@@ -46,11 +46,11 @@ class Search:
             self.low[parent] = min(self.low[parent], self.low[node])
         if self.low[node] == self.entered[node]:
             member = self.open_nodes.pop()
-            self.component[member] = self.count
+            self.component[member] = self.total
             while member != node:
                 member = self.open_nodes.pop()
-                self.component[member] = self.count
-            self.count += 1
+                self.component[member] = self.total
+            self.total += 1
 
 
 def components(edges):

@@ -64,7 +64,7 @@ class Followers:
         self.masks[state] = mask
         return changed
 
-    def find(self):
+    def shrink_all(self):
         """The list of the followers of each state."""
         changed = True
         while changed:
@@ -86,7 +86,7 @@ def followers(system):
     """The followers of each state of a system, as digits; in a large system each state alone."""
     if system and len(system) * len(system) * len(system[0]) > MOST_WORK:
         return [1 << state for state in range(len(system))]
-    return Followers(system).find()
+    return Followers(system).shrink_all()
 
 
 def reduced(system, starts):
