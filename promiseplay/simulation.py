@@ -9,7 +9,7 @@ successor again. Then it has all fair runs, too.
 from promiseplay.places import Places
 
 # Above this product of states and states and letters, looking for followers takes too long.
-MOST_WORK = 16000000
+MOST_WORK = 8000000
 
 
 def digits_of(mask):
