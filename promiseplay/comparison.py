@@ -2,11 +2,11 @@
 
 from promiseplay.buchi import flags
 from promiseplay.determinization import determinize
-from promiseplay.graphs import components, shortest_path
 from promiseplay.letters import columns_of, grouped, with_letters
 from promiseplay.operations import check_same_letters, trim
 from promiseplay.parity import complement_parity, to_buchi
 from promiseplay.places import Places
+from promiseplay.ranked import find_ranked
 from promiseplay.reduction import smaller
 from promiseplay.trees import Trees
 from promiseplay.words import normal_lasso
@@ -77,43 +77,6 @@ class Difference:
         for state in self.first.initial:
             self.places.number_of((state, start))
         starts = list(range(len(self.places.order)))
-        odd = {}
         while self.places.waits(self.steps):
-            steps = self.steps_of(self.places.first_without(self.steps))
-            for step in steps:
-                if step[2] % 2 == 1:
-                    odd[step[2]] = True
-            self.steps.append(steps)
-        for priority in sorted(list(odd)):
-            found = self.find_with(priority, starts)
-            if found is not None:
-                return found
-        return None
-
-    def find_with(self, priority, starts):
-        """Such a word in whose loop a priority is the greatest one, or None."""
-        edges = [[step[1] for step in steps if step[2] <= priority] for steps in self.steps]
-        component = components(edges)
-        accepting = {}
-        for node, (state, _) in enumerate(self.places.order):
-            if self.accepting[state]:
-                accepting[component[node]] = True
-        for node, steps in enumerate(self.steps):
-            for letter, target, other in steps:
-                inside = component[target] == component[node]
-                if other == priority and inside and component[node] in accepting:
-                    return self.lasso_through(node, letter, target, priority, component, starts)
-        return None
-
-    def lasso_through(self, node, letter, target, priority, component, starts):
-        """The head and the loop of a run that takes a step again and again and stays in its component."""
-        free = [[(step[0], step[1]) for step in steps] for steps in self.steps]
-        head, _ = shortest_path(free, starts, flags([node], len(free)))
-        inner = []
-        for other, steps in enumerate(self.steps):
-            inner.append([(step[0], step[1]) for step in steps if step[2] <= priority
-                          and component[step[1]] == component[other] == component[node]])
-        goals = [self.accepting[state] for state, _ in self.places.order]
-        there, middle = shortest_path(inner, [target], goals)
-        back, _ = shortest_path(inner, [middle], flags([node], len(inner)))
-        return head, [letter] + there + back
+            self.steps.append(self.steps_of(self.places.first_without(self.steps)))
+        return find_ranked(self.steps, starts, 1, [self.accepting[state] for state, _ in self.places.order])

@@ -12,19 +12,24 @@ def determinize(automaton):
     """A parity automaton that accepts the same words as a Buchi automaton."""
     automaton = smaller(automaton)
     table, firsts = grouped(columns_of(automaton.rows, automaton.letters))
-    edges, priorities = all_trees(Trees(with_letters(automaton, firsts)), len(firsts))
+    edges, priorities = all_trees(Trees(with_letters(automaton, firsts)), len(firsts), None)
     few = with_priorities(edges, small_priorities(edges, priorities))
     rows = [[row[group] for group in table] for row in few.rows]
     return ParityAutomaton(automaton.letters, few.start, few.priorities, rows)
 
 
-def all_trees(trees, letters):
-    """The graph of all trees that are reached, the first one being the start, and the priorities of its edges."""
+def all_trees(trees, letters, limit):
+    """The graph of all trees that are reached, the first one being the start, and the priorities of its edges.
+
+    Both are None if more trees are reached than a limit says; None is no limit.
+    """
     places = Places()
     places.number_of(trees.first_tree())
     edges = []
     priorities = []
     while places.waits(edges):
+        if limit is not None and len(places.order) > limit:
+            return None, None
         tree = places.first_without(edges)
         steps = [trees.step(tree, letter) for letter in range(letters)]
         edges.append([places.number_of(later) for later, _ in steps])
