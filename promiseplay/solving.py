@@ -61,11 +61,13 @@ class Recursion:
                 self.come_back(region)
 
     def go_inside(self, region):
-        """Turn to what remains when one player is let go to the greatest priority."""
+        """Turn to what remains when one player is let go to the greatest priorities."""
         depth = len(self.stack) - 1
-        most = max([self.game.priorities[position] for position in region.positions])
-        region.player = most % 2
-        targets = [position for position in region.positions if self.game.priorities[position] == most]
+        priorities = [self.game.priorities[position] for position in region.positions]
+        region.player = max(priorities) % 2
+        # All priorities above those of the other player are as good as the greatest one.
+        most = max([priority for priority in priorities if priority % 2 != region.player], default=-1)
+        targets = [position for position in region.positions if self.game.priorities[position] > most]
         for position in targets:
             self.choices[position] = self.inner_move(position, depth)
         taken = self.attract(region.player, targets, depth)

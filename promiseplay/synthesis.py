@@ -1,7 +1,7 @@
 """Controllers and counter-strategies for specifications."""
 
 from promiseplay.delays import judge_with_lead
-from promiseplay.games import Game
+from promiseplay.games import Game, choices_win
 from promiseplay.machines import Machine
 from promiseplay.minimization import minimize
 from promiseplay.places import Places
@@ -36,8 +36,9 @@ class Contest:
     """The game in which a letter is heard, then a letter is emitted, and a judge tells who wins.
 
     The first positions are the states of the judge; there the surroundings, player 1,
-    choose what is heard. A position ("say", ..) has the steps among which the system,
-    player 0, chooses, each a pair of a rank and a state; ("step", ..) is such a step.
+    choose what is heard. A position ("say", ..) has for each letter that the system,
+    player 0, may emit the step to which it leads, a pair of a rank and a state; ("step",
+    ..) is such a step. `favourite` is a letter that the winner prefers.
     """
 
     def __init__(self, judge, inputs):
@@ -45,59 +46,83 @@ class Contest:
         self.inputs = inputs
         self.outputs = judge.letters // inputs
         self.places = Places()
+        self.winner = 0
         self.choices = []
-        self.winners = []
-
-    def steps_after(self, state, heard):
-        """The list of the steps for each letter that may be emitted, when a letter is heard in a state."""
-        row = self.judge.rows[state]
-        told = self.judge.ranks[state]
-        return [(told[letter], row[letter]) for letter in range(heard, self.judge.letters, self.inputs)]
+        self.favourite = 0
 
     def decide(self):
         """Solve the game."""
         for state in range(len(self.judge.rows)):
             self.places.number_of(("state", state))
-        moves = []
-        while self.places.waits(moves):
-            kind, what = self.places.first_without(moves)
-            if kind == "state":
-                met = [self.choice_after(what, heard) for heard in range(self.inputs)]
-            elif kind == "say":
-                met = [self.places.number_of(("step", step)) for step in what]
-            else:
-                met = [what[1]]
-            moves.append(sorted(list({target: True for target in met})))
+        answers = []
+        while self.places.waits(answers):
+            answers.append(self.answers_at(self.places.first_without(answers)))
         owners = [1 if kind == "state" else 0 for kind, _ in self.places.order]
         priorities = [what[0] if kind == "step" else 0 for kind, what in self.places.order]
-        solution = solve(Game(owners, priorities, moves))
+        moves = [sorted(list({target: True for target in met})) for met in answers]
+        game = Game(owners, priorities, moves)
+        solution = solve(game)
+        self.winner = solution.winners[0]
         self.choices = solution.choices
-        self.winners = solution.winners
+        # Where the winner can always take one letter, the machine is far smaller.
+        for letter in range(self.inputs if self.winner == 1 else self.outputs):
+            choices = steady_choices(solution, owners, answers, letter)
+            if choices_win(game, self.winner, choices, 0):
+                self.choices = choices
+                self.favourite = letter
+                return
+
+    def answers_at(self, place):
+        """The positions to which the letters lead that may be chosen at a position."""
+        kind, what = place
+        if kind == "state":
+            return [self.choice_after(what, heard) for heard in range(self.inputs)]
+        if kind == "say":
+            return [self.places.number_of(("step", step)) for step in what]
+        return [what[1]]
+
+    def steps_after(self, state, heard):
+        """The tuple of the steps for each letter that may be emitted, when a letter is heard in a state."""
+        row = self.judge.rows[state]
+        told = self.judge.ranks[state]
+        return tuple([(told[letter], row[letter]) for letter in range(heard, self.judge.letters, self.inputs)])
 
     def choice_after(self, state, heard):
         """The position at which the system chooses when a letter is heard in a state."""
-        steps = {step: True for step in self.steps_after(state, heard)}
-        return self.places.number_of(("say", tuple(sorted(list(steps)))))
+        return self.places.number_of(("say", self.steps_after(state, heard)))
 
     def is_won(self):
         """Whether the system wins."""
-        return self.winners[0] == 0
+        return self.winner == 0
 
     def answer(self, state, heard):
         """The letter that the system emits when a letter is heard in a state."""
+        steps = self.steps_after(state, heard)
         _, step = self.places.order[self.choices[self.choice_after(state, heard)]]
-        return self.steps_after(state, heard).index(step)
+        return self.favourite if steps[self.favourite] == step else steps.index(step)
 
     def challenge(self, state):
         """The letter that the surroundings let be heard in a state."""
-        for heard in range(self.inputs):
-            if self.choice_after(state, heard) == self.choices[state]:
-                return heard
-        return 0
+        choices = [self.choice_after(state, heard) for heard in range(self.inputs)]
+        if choices[self.favourite] == self.choices[state]:
+            return self.favourite
+        return choices.index(self.choices[state])
 
     def after(self, state, heard, emitted):
         """The state after a letter is heard and a letter is emitted."""
         return self.judge.rows[state][heard + self.inputs * emitted]
+
+
+def steady_choices(solution, owners, answers, letter):
+    """The choices of a solution with those for one letter wherever its position is won by the same player."""
+    found = []
+    for position, choice in enumerate(solution.choices):
+        if choice >= 0 and len(answers[position]) > letter:
+            target = answers[position][letter]
+            if solution.winners[target] == owners[position]:
+                choice = target
+        found.append(choice)
+    return found
 
 
 def controller(contest, lead):

@@ -2,6 +2,11 @@
 
 import itertools
 
+from promiseplay.buchi import Automaton
+from promiseplay.machines import Machine
+from promiseplay.specs import Spec
+from promiseplay.truth import holds
+
 
 def letters_of(lasso, count):
     """The first letters of the word of a lasso."""
@@ -203,3 +208,111 @@ def slow_accepts_parity(start, priorities, rows, lasso):
         seen.append(priorities[state])
     # After len(rows) loops the states at the beginnings of loops repeat within len(rows) loops.
     return max(seen) % 2 == 0
+
+
+def random_machine(random, inputs, outputs, lead, states=3):
+    """A machine with at most so many states."""
+    n = random.randint(1, states)
+    rows = [[(random.randrange(n), random.randrange(outputs)) for _ in range(inputs)] for _ in range(n)]
+    return Machine(inputs, outputs, lead, [random.randrange(outputs) for _ in range(max(0, -lead))], rows)
+
+
+def slow_emitted(machine, heard):
+    """The letters e(0), e(1), .. by the very words of the document."""
+    state = 0
+    emitted = []
+    for letter in heard:
+        state, told = machine.rows[state][letter]
+        emitted.append(told)
+    return emitted
+
+
+def slow_said(machine, heard):
+    """The letters o(0), o(1), .. that can be known when exactly these letters were heard."""
+    emitted = slow_emitted(machine, heard)
+    said = []
+    turn = 0
+    while turn + machine.lead < len(heard):
+        said.append(emitted[turn + machine.lead] if turn + machine.lead >= 0 else machine.opening[turn])
+        turn += 1
+    return said
+
+
+def slow_trace(machine, lasso, turns):
+    """The first letters of a trace."""
+    said = slow_said(machine, letters_of(lasso, turns + 3))
+    return [i + machine.inputs * o for i, o in zip(letters_of(lasso, turns), said)]
+
+
+def slow_play(machine, opponent, turns):
+    """The first letters of a play: whoever can say a letter says it."""
+    heard, said = [], []
+    while min(len(heard), len(said)) < turns:
+        more = slow_said(opponent, said)
+        other = slow_said(machine, heard)
+        assert more[:len(heard)] == heard and other[:len(said)] == said
+        assert len(more) > len(heard) or len(other) > len(said)
+        heard, said = more, other
+    return [i + machine.inputs * o for i, o in zip(heard, said)][:turns]
+
+
+def trace_automaton(machine):
+    """A Buchi automaton of all traces of a machine: it checks what was said when it is emitted."""
+    letters = machine.inputs * machine.outputs
+    numbers = {(0, machine.opening): 0}
+    rows = []
+    while len(rows) < len(numbers):
+        state, pending = list(numbers)[len(rows)]
+        row = []
+        for letter in range(letters):
+            heard, said = letter % machine.inputs, letter // machine.inputs
+            target, emitted = machine.rows[state][heard]
+            fits, later = True, pending
+            if machine.lead < 0:
+                fits, later = pending[0] == said, pending[1:] + (emitted,)
+            else:
+                later = pending + (said,)
+                if len(later) > machine.lead:
+                    fits, later = later[0] == emitted, later[1:]
+            row.append([numbers.setdefault((target, later), len(numbers))] if fits else [])
+        rows.append(row)
+    return Automaton(letters, [0], list(range(len(rows))), rows)
+
+
+def random_properties(random, names, count, temporal=6, hidden=0.2):
+    """Properties over some signals with at most so many temporal operators together."""
+    found = []
+    for _ in range(count):
+        most = random.randint(0, min(3, temporal))
+        extra = ("h",) if random.random() < hidden else ()
+        formula = random_formula(random, list(names) + list(extra), most, 1, 5)
+        temporal -= most
+        found.append((random.choice(["exists", "forall"]), extra, formula) if extra else formula)
+    return found
+
+
+def random_spec(random, lead=None, negated=None, hidden=0.2, signals=2):
+    """A specification of any kind."""
+    inputs = ["a", "b", "c"][:random.randint(0, signals)]
+    outputs = ["x", "y", "z"][:random.randint(0, signals)]
+    lead = random.randint(-3, 2) if lead is None else lead
+    negated = random.random() < 0.3 if negated is None else negated
+    many = random.choice([0, 1, 1, 2, 2, 3])
+    properties = random_properties(random, inputs + outputs, many + random.choice([0, 0, 1, 2]), 6, hidden)
+    return Spec(inputs, outputs, lead, properties[many:], properties[:many], negated=negated)
+
+
+def exchanged(lasso, first, second):
+    """The word of the letters o + q * i for one of letters i + p * o, where first is p and second is q."""
+    head, loop = lasso
+    return tuple(a // first + second * (a % first) for a in head), tuple(a // first + second * (a % first) for a in loop)
+
+
+def slow_satisfies(spec, lasso):
+    """Whether a word satisfies a specification, by the words of the document."""
+    def true(prop):
+        if prop[0] in ("exists", "forall"):
+            return holds(prop, list(spec.signals), lasso)
+        return slow_holds(prop, spec.signals, lasso)
+    kept = not all(true(prop) for prop in spec.assumptions) or all(true(prop) for prop in spec.guarantees)
+    return not kept if spec.negated else kept

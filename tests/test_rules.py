@@ -231,11 +231,38 @@ class Interface(unittest.TestCase):
         "operations": "union intersection hide widen trim",
         "parity": "ParityAutomaton accepts_parity complement_parity quotient to_buchi",
         "determinization": "determinize", "comparison": "complement included equivalent", "translation": "translate",
-        "description": "describe", "games": "Game distances choices_win",
+        "description": "describe", "games": "Game distances choices_win", "solving": "Solution solve",
+        "machines": "Machine respond trace", "plays": "play", "minimization": "minimize separating_word",
+        "machinetext": "format_machine parse_machine", "specs": "Spec satisfies dual spec_automaton",
+        "spectext": "format_spec parse_spec", "synthesis": "Verdict synthesize", "checking": "breaking_word",
+        "prospects": "prospects", "monitors": "Monitor", "journals": "Journal recover",
+        "certificates": "write_certificate audit", "congruence": "separating_context exponent",
+        "expressions": "matches contains expression_automaton automaton_expression",
     }
+    METHODS = {("machines", "Machine"): "__call__", ("specs", "Spec"): "signals", ("monitors", "Monitor"): "verdict read",
+               ("journals", "Journal"): "hear said"}
+    PROPERTIES = "signals verdict said"
 
     def test_names_are_defined_in_their_files(self):
         for module, names in self.HERE.items():
             tree = modules()[module][1]
             defined = {node.name for node in tree.body if isinstance(node, (ast.FunctionDef, ast.ClassDef))}
             self.assertLessEqual(set(names.split()), defined)
+
+    def test_methods_stand_in_their_classes(self):
+        for (module, name), methods in self.METHODS.items():
+            for node in modules()[module][1].body:
+                if isinstance(node, ast.ClassDef) and node.name == name:
+                    own = {item.name: item for item in node.body if isinstance(item, ast.FunctionDef)}
+                    for method in methods.split():
+                        self.assertEqual(len(own[method].decorator_list), method in self.PROPERTIES.split())
+
+    def test_names_of_properties_are_used_for_nothing_else(self):
+        taken = []
+        for _, (_, tree) in modules().items():
+            for node in ast.walk(tree):
+                if isinstance(node, ast.FunctionDef) and not node.decorator_list:
+                    taken.append(node.name)
+                if isinstance(node, ast.Attribute) and isinstance(node.ctx, ast.Store):
+                    taken.append(node.attr)
+        self.assertFalse(set(self.PROPERTIES.split()) & set(taken))
