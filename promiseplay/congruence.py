@@ -18,14 +18,14 @@ class Contexts:
     def __init__(self, automaton):
         self.profiles = Profiles(automaton)
         forward = [leads for leads, _ in self.profiles.letters]
-        self.heads = spread_words([(mask_of(automaton.initial), [])], forward)
+        self.heads = spread_words(mask_of(automaton.initial), forward)
         loops = {}
         for number, profile in enumerate(self.profiles.order):
             loops.setdefault(endless(profile), number)
         self.tails = {}
         backward = [turned_round(leads) for leads in forward]
         for mask in list(loops):
-            found = spread_words([(mask, [])], backward)
+            found = spread_words(mask, backward)
             for value in found:
                 self.tails.setdefault(value, (list(reversed(found[value])), self.profiles.word(loops[mask])))
 

@@ -3,7 +3,6 @@
 from promiseplay.errors import BadJournal, InvalidLetter
 from promiseplay.numerals import is_number
 
-SPACING = 4
 FIRST_WORD = "journal "
 HEARD = "heard "
 
@@ -42,7 +41,7 @@ def recover(machine, text):
     """The journal of a machine after a crash."""
     kept = text[:text.rfind("\n") + 1]
     if kept == "":
-        return Journal(machine, spacing=SPACING)
+        return Journal(machine)
     lines = kept.split("\n")
     spacing = lines[0][len(FIRST_WORD):]
     if not lines[0].startswith(FIRST_WORD) or not is_number(spacing) or spacing == "0":

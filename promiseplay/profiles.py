@@ -101,17 +101,14 @@ class Profiles:
         return found
 
 
-def spread_words(starts, steps):
-    """The values that steps lead to from some starts, each with a word that leads there.
+def spread_words(start, steps):
+    """The sets of states to which steps lead from a set, each with a word that leads there.
 
-    starts has pairs of a value and a word; steps has a list of masks for each letter,
-    and a letter leads from a set of states to its image.
+    steps has a list of masks for each letter, and a letter leads from a set of states,
+    as digits, to its image.
     """
-    found = {}
-    for value, word in starts:
-        if value not in found:
-            found[value] = word
-    waiting = list(found)
+    found = {start: []}
+    waiting = [start]
     at = 0
     while at < len(waiting):
         for letter, masks in enumerate(steps):

@@ -48,11 +48,6 @@ def dual(spec):
     return Spec(spec.outputs, spec.inputs, -1 - spec.lead, spec.assumptions, spec.guarantees, negated=not spec.negated)
 
 
-def opposite(spec):
-    """The specification that exactly those words satisfy that do not satisfy a given one."""
-    return Spec(spec.inputs, spec.outputs, spec.lead, spec.assumptions, spec.guarantees, negated=not spec.negated)
-
-
 def spec_automaton(spec):
     """A Buchi automaton of exactly the words that satisfy a specification."""
     return outcome_automaton(spec.assumptions, spec.guarantees, spec.signals, not spec.negated)

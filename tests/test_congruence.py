@@ -102,6 +102,15 @@ class Separating(unittest.TestCase):
         self.assertEqual(self.check(often, [1, 0], [0, 0])[0], "circular")
         self.assertIsNone(self.check(often, [1, 0], [0, 1, 1]))
 
+    def test_contexts_that_must_be_long(self):
+        # Only with exactly two letters ahead does the first letter stand in turn 2.
+        later = translate(parse_property("X X a", ["a"]), ["a"])
+        found = self.check(later, [0, 1, 1], [1, 1, 1])
+        self.assertEqual(len(found[1]), 2)
+        # From state 0 only 1, then 0, then 2 without end is accepted.
+        chain = Automaton(4, [0], [2], [[[], [1], [], [0]], [[2], [], [], []], [[], [], [2], []]])
+        self.assertEqual(self.check(chain, [3], [2])[2:], ((1, 0), (2,)))
+
     def test_equal_words_and_powers(self):
         chance = random.Random(1)
         for _ in range(60):
