@@ -109,7 +109,7 @@ class Separating(unittest.TestCase):
         self.assertEqual(len(found[1]), 2)
         # From state 0 only 1, then 0, then 2 without end is accepted.
         chain = Automaton(4, [0], [2], [[[], [1], [], [0]], [[2], [], [], []], [[], [], [2], []]])
-        self.assertEqual(self.check(chain, [3], [2])[2:], ((1, 0), (2,)))
+        self.assertEqual(self.check(chain, [3], [3, 1, 3])[2:], ((1, 0), (2,)))
 
     def test_equal_words_and_powers(self):
         chance = random.Random(1)
