@@ -1,6 +1,5 @@
 """Judges of what a machine with a lead hears and emits."""
 
-from promiseplay.conditions import spec_judge
 from promiseplay.judges import settled
 from promiseplay.letters import grouped
 from promiseplay.places import Places
@@ -45,9 +44,8 @@ def delayed(judge, inputs):
     return settled(rows, ranks, list(range(judge.letters)))
 
 
-def judge_with_lead(spec):
-    """A judge of what the systems for a specification whose lead is not negative hear and emit."""
-    judge = spec_judge(spec)
-    for _ in range(spec.lead):
-        judge = delayed(judge, 1 << len(spec.inputs))
+def delayed_by(judge, inputs, lead):
+    """A judge of what systems with a lead that is not negative hear and emit, from one of what they hear and say."""
+    for _ in range(lead):
+        judge = delayed(judge, inputs)
     return judge

@@ -42,6 +42,16 @@ def opposite_judge(judge):
     return settled(judge.rows, [[rank + 1 for rank in told] for told in judge.ranks], list(range(judge.letters)))
 
 
+def other_side(judge, inputs):
+    """A judge of the words that a judge does not accept, as the other side reads them.
+
+    A letter i + inputs * o of the one is the letter o + outputs * i of the other.
+    """
+    outputs = judge.letters // inputs
+    table = [letter // outputs + inputs * (letter % outputs) for letter in range(judge.letters)]
+    return settled(judge.rows, [[rank + 1 for rank in told] for told in judge.ranks], table)
+
+
 def settled(rows, ranks, table):
     """The settled judge with some rows and ranks; table has for each letter its index in them."""
     rows, ranks = with_ends(rows, ranks)

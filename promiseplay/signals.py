@@ -26,3 +26,12 @@ def is_name(text):
     if text == "" or not is_lower(text[0]) or text in RESERVED:
         return False
     return word_end(text, 0) == len(text)
+
+
+def part_table(names, chosen):
+    """For each letter over some signals the letter over chosen ones in which these have the same values."""
+    places = [names.index(name) for name in chosen]
+    table = []
+    for letter in range(1 << len(names)):
+        table.append(sum([((letter >> place) & 1) << k for k, place in enumerate(places)]))
+    return table

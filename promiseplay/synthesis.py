@@ -1,12 +1,13 @@
 """Controllers and counter-strategies for specifications."""
 
-from promiseplay.delays import judge_with_lead
+from promiseplay.conditions import spec_judge
+from promiseplay.delays import delayed_by
 from promiseplay.games import Game, choices_win
+from promiseplay.judges import other_side
 from promiseplay.machines import Machine
 from promiseplay.minimization import minimize
 from promiseplay.places import Places
 from promiseplay.solving import solve
-from promiseplay.specs import dual
 
 
 class Verdict:
@@ -19,16 +20,21 @@ class Verdict:
 
 def synthesize(spec):
     """The verdict on a specification."""
-    if spec.lead < 0:
-        # The dual has a lead of at least 0, so there is one kind of game to solve.
-        verdict = synthesize(dual(spec))
+    return decided(spec_judge(spec), 1 << len(spec.inputs), spec.lead)
+
+
+def decided(judge, inputs, lead):
+    """The verdict on the words that a judge accepts, where systems have a lead and hear one of some letters."""
+    if lead < 0:
+        # The other side has a lead of at least 0, so there is one kind of game to solve.
+        verdict = decided(other_side(judge, inputs), judge.letters // inputs, -1 - lead)
         return Verdict(not verdict.realizable, verdict.machine)
-    contest = Contest(judge_with_lead(spec), 1 << len(spec.inputs))
+    contest = Contest(delayed_by(judge, inputs, lead), inputs)
     contest.decide()
     if contest.is_won():
-        machine = controller(contest, spec.lead)
+        machine = controller(contest, lead)
     else:
-        machine = counter_strategy(contest, spec.lead)
+        machine = counter_strategy(contest, lead)
     return Verdict(contest.is_won(), minimize(machine))
 
 
@@ -38,7 +44,8 @@ class Contest:
     The first positions are the states of the judge; there the surroundings, player 1,
     choose what is heard. A position ("say", ..) has for each letter that the system,
     player 0, may emit the step to which it leads, a pair of a rank and a state; ("step",
-    ..) is such a step. `favourite` is a letter that the winner prefers.
+    ..) is such a step. `winners` has the winner of each position, and `favourite` is a
+    letter that the winner at the start prefers.
     """
 
     def __init__(self, judge, inputs):
@@ -46,31 +53,47 @@ class Contest:
         self.inputs = inputs
         self.outputs = judge.letters // inputs
         self.places = Places()
-        self.winner = 0
-        self.choices = []
+        self.answers = []
+        self.winners = ()
+        self.choices = ()
         self.favourite = 0
 
     def decide(self):
-        """Solve the game."""
-        for state in range(len(self.judge.rows)):
-            self.places.number_of(("state", state))
-        answers = []
-        while self.places.waits(answers):
-            answers.append(self.answers_at(self.places.first_without(answers)))
-        owners = [1 if kind == "state" else 0 for kind, _ in self.places.order]
-        priorities = [what[0] if kind == "step" else 0 for kind, what in self.places.order]
-        moves = [sorted(list({target: True for target in met})) for met in answers]
-        game = Game(owners, priorities, moves)
-        solution = solve(game)
-        self.winner = solution.winners[0]
-        self.choices = solution.choices
+        """Solve the game and choose what makes a small machine."""
+        game = self.solve_game()
         # Where the winner can always take one letter, the machine is far smaller.
-        for letter in range(self.inputs if self.winner == 1 else self.outputs):
-            choices = steady_choices(solution, owners, answers, letter)
-            if choices_win(game, self.winner, choices, 0):
+        for letter in range(self.outputs if self.is_won() else self.inputs):
+            choices = self.steady_choices(game.owners, letter)
+            if choices_win(game, self.winners[0], choices, 0):
                 self.choices = choices
                 self.favourite = letter
                 return
+
+    def solve_game(self):
+        """Find the winners and some choices; return the game."""
+        for state in range(len(self.judge.rows)):
+            self.places.number_of(("state", state))
+        while self.places.waits(self.answers):
+            self.answers.append(self.answers_at(self.places.first_without(self.answers)))
+        owners = [1 if kind == "state" else 0 for kind, _ in self.places.order]
+        priorities = [what[0] if kind == "step" else 0 for kind, what in self.places.order]
+        moves = [sorted(list({target: True for target in met})) for met in self.answers]
+        game = Game(owners, priorities, moves)
+        solution = solve(game)
+        self.winners = solution.winners
+        self.choices = solution.choices
+        return game
+
+    def steady_choices(self, owners, letter):
+        """The choices with those for one letter wherever its position is won by the same player."""
+        found = []
+        for position, choice in enumerate(self.choices):
+            if choice >= 0 and len(self.answers[position]) > letter:
+                target = self.answers[position][letter]
+                if self.winners[target] == owners[position]:
+                    choice = target
+            found.append(choice)
+        return found
 
     def answers_at(self, place):
         """The positions to which the letters lead that may be chosen at a position."""
@@ -93,7 +116,7 @@ class Contest:
 
     def is_won(self):
         """Whether the system wins."""
-        return self.winner == 0
+        return self.winners[0] == 0
 
     def answer(self, state, heard):
         """The letter that the system emits when a letter is heard in a state."""
@@ -111,18 +134,6 @@ class Contest:
     def after(self, state, heard, emitted):
         """The state after a letter is heard and a letter is emitted."""
         return self.judge.rows[state][heard + self.inputs * emitted]
-
-
-def steady_choices(solution, owners, answers, letter):
-    """The choices of a solution with those for one letter wherever its position is won by the same player."""
-    found = []
-    for position, choice in enumerate(solution.choices):
-        if choice >= 0 and len(answers[position]) > letter:
-            target = answers[position][letter]
-            if solution.winners[target] == owners[position]:
-                choice = target
-        found.append(choice)
-    return found
 
 
 def controller(contest, lead):

@@ -3,8 +3,10 @@
 import itertools
 
 from promiseplay.buchi import Automaton
+from promiseplay.errors import TooLarge
 from promiseplay.machines import Machine
 from promiseplay.specs import Spec
+from promiseplay.spectext import parse_spec
 from promiseplay.truth import holds
 
 
@@ -316,3 +318,70 @@ def slow_satisfies(spec, lasso):
         return slow_holds(prop, spec.signals, lasso)
     kept = not all(true(prop) for prop in spec.assumptions) or all(true(prop) for prop in spec.guarantees)
     return not kept if spec.negated else kept
+
+
+PATTERNS = ["G({i} -> F {o})", "G({o} -> X !{o})", "(G F {i}) -> G F {o}", "G({i} -> X {o} | XX {o})", "!{o} W {i}",
+            "G(Y {i} -> {o})", "G(({i} S {j}) -> {o})", "G({o} <-> O {i})", "F G !{o}", "G(({i} & X {j}) -> X F {o})",
+            "{i} U ({o} & X {u})", "G({o} -> ({u} R {i}))", "G F ({o} & {i})", "G({o} <-> ({i} <-> Y {o}))",
+            "G({i} & !{j} -> {o})", "G(!{o} | !{u})", "G({i} -> ({o} U {j}))", "G({i} <-> X {o})", "G({o} <-> XX {i})",
+            "G(H {i} -> {o})", "G({o} -> O {i})", "G F {o} & G F !{o}", "F({i} & {o}) | G {u}", "G({i} -> X({o} W {j}))",
+            "{o} | X {o} | XX {i}", "G({i} -> !{o} & X {o})", "G((Y {o}) & {i} -> {o})", "G({o} -> Y {i} | YY {j})"]
+HIDING = ["exists h: G(h <-> X {o}) & G(h -> {i} | {u})", "forall h: G(h -> F {i}) -> F(h & {o})",
+          "exists h: h & G(h <-> X !h) & G(h -> ({o} <-> {i}))"]
+ASSUMED = ["G F {i}", "G({i} -> X !{i})", "G({i} -> F !{i})", "F G {i}", "G({o} -> X {i})", "G({o} -> F {i})",
+           "!{i} | X {j}", "G(!{i} | !{j})"]
+
+
+def lively_spec(chance, inputs=2, outputs=2, lead=None, negated=None, hidden=0.1, most=3, assumed=True):
+    """A specification made of things that specifications say."""
+    while True:
+        ins = ["a", "b", "c"][:chance.randint(0, inputs)]
+        outs = ["x", "y", "z"][:chance.randint(0, outputs)]
+        if not ins + outs:
+            continue
+        names = {"i": ins or outs, "j": ins + outs, "o": outs or ins, "u": ins + outs}
+        lines = []
+        kinds = ["assume"] * (chance.choice([0, 0, 1, 2]) if assumed else 0) + ["guarantee"] * chance.randint(1, most)
+        for kind in kinds:
+            table = ASSUMED if kind == "assume" else HIDING if chance.random() < hidden else PATTERNS
+            text = chance.choice(table)
+            lines.append(f"{kind} " + text.format(**{sign: chance.choice(some) for sign, some in names.items()}) + "\n")
+        if chance.random() < 0.12 if negated is None else negated:
+            lines.append("negated\n")
+        own = chance.randint(-3, 2) if lead is None else lead
+        head = " ".join(["inputs"] + ins) + "\n" + " ".join(["outputs"] + outs) + f"\nlead {own}\n"
+        try:
+            return parse_spec(head + "".join(lines))
+        except TooLarge:
+            continue
+
+
+def machines_of(inputs, outputs, lead, states):
+    """All machines with exactly so many states."""
+    row = list(itertools.product(itertools.product(range(states), range(outputs)), repeat=inputs))
+    for opening in itertools.product(range(outputs), repeat=max(0, -lead)):
+        for rows in itertools.product(row, repeat=states):
+            yield Machine(inputs, outputs, lead, opening, rows)
+
+
+def is_numbered(machine):
+    """Whether the states of a machine are numbered in the order in which they are first reached."""
+    met = [0]
+    for state in range(len(machine.rows)):
+        if state >= len(met):
+            return False
+        for target, _ in machine.rows[state]:
+            if target not in met:
+                met.append(target)
+    return met == list(range(len(machine.rows)))
+
+
+def said_in(word, inputs):
+    """The lasso of what is said in a word of letters i + inputs * o."""
+    head, loop = word
+    return tuple(a // inputs for a in head), tuple(a // inputs for a in loop)
+
+
+def joined_words(first, second, size, turns=200):
+    """The first letters of the word of first + size * second, turn by turn."""
+    return [a + size * b for a, b in zip(letters_of(first, turns), letters_of(second, turns))]

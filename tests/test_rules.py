@@ -237,10 +237,16 @@ class Interface(unittest.TestCase):
         "spectext": "format_spec parse_spec", "synthesis": "Verdict synthesize", "checking": "breaking_word",
         "prospects": "prospects", "monitors": "Monitor", "journals": "Journal recover",
         "certificates": "write_certificate audit", "congruence": "separating_context exponent",
-        "expressions": "matches contains expression_automaton automaton_expression",
+        "expressions": "matches contains expression_automaton automaton_expression", "smallest": "smallest_system",
+        "sight": "visible lifted completion synthesize_sighted",
+        "priced": "PricedGame needs purse_plan plan_works free_needs means",
+        "paying": "PricedVerdict synthesize_priced money_trouble is_short",
+        "faults": "fault_trouble borne true_word synthesize_bearing",
+        "reasons": "share cores keepable_parts helps is_honest",
+        "circuits": "Circuit circuit_of machine_of first_difference_of",
     }
     METHODS = {("machines", "Machine"): "__call__", ("specs", "Spec"): "signals", ("monitors", "Monitor"): "verdict read",
-               ("journals", "Journal"): "hear said"}
+               ("journals", "Journal"): "hear said", ("circuits", "Circuit"): "__call__"}
     PROPERTIES = "signals verdict said"
 
     def test_names_are_defined_in_their_files(self):
