@@ -1,7 +1,7 @@
 """Journals: texts from which the run of a machine can be resumed after a crash."""
 
 from promiseplay.errors import BadJournal, InvalidLetter
-from promiseplay.numerals import is_number
+from promiseplay.numerals import is_number, number_in, numeral
 
 FIRST_WORD = "journal "
 HEARD = "heard "
@@ -13,7 +13,7 @@ class Journal:
     def __init__(self, machine, *, spacing=4):
         self.machine = machine
         self.spacing = spacing
-        self.text = f"{FIRST_WORD}{spacing}\n"
+        self.text = f"{FIRST_WORD}{numeral(spacing)}\n"
         self.state = 0
         self.turns = 0
         self.told = machine.opening
@@ -23,12 +23,12 @@ class Journal:
         if letter < 0 or letter >= self.machine.inputs:
             raise InvalidLetter("the machine cannot hear the letter")
         self.state, emitted = self.machine.rows[self.state][letter]
-        self.text += f"{HEARD}{letter}\n"
+        self.text += f"{HEARD}{numeral(letter)}\n"
         said = [emitted] if self.turns >= self.machine.lead else []
         self.told += tuple(said)
         self.turns += 1
         if self.turns % self.spacing == 0:
-            self.text += f"state {self.turns} {self.state}\n"
+            self.text += f"state {numeral(self.turns)} {numeral(self.state)}\n"
         return said
 
     @property
@@ -46,7 +46,7 @@ def recover(machine, text):
     spacing = lines[0][len(FIRST_WORD):]
     if not lines[0].startswith(FIRST_WORD) or not is_number(spacing) or spacing == "0":
         raise BadJournal("the first line is wrong")
-    journal = Journal(machine, spacing=int(spacing))
+    journal = Journal(machine, spacing=number_in(spacing))
     for line in lines:
         if line.startswith(HEARD):
             hear_word(journal, line[len(HEARD):])
@@ -58,9 +58,9 @@ def recover(machine, text):
 
 def hear_word(journal, word):
     """Let the machine of a journal hear the letter that a word writes."""
-    if not is_number(word) or len(word) > len(str(journal.machine.inputs)):
+    if not is_number(word):
         raise BadJournal("a word is no letter")
     try:
-        journal.hear(int(word))
+        journal.hear(number_in(word))
     except InvalidLetter:
         raise BadJournal("the machine cannot hear a letter") from None

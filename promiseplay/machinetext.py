@@ -2,15 +2,15 @@
 
 from promiseplay.errors import InvalidMachine, MachineSyntaxError
 from promiseplay.machines import LEADS, Machine
-from promiseplay.numerals import is_number
+from promiseplay.numerals import is_number, number_in, numeral
 
 
 def format_machine(machine):
     """The text of a machine."""
-    lines = [f"machine {machine.inputs} {machine.outputs} {machine.lead}"]
-    lines.append(" ".join(["opening"] + [str(letter) for letter in machine.opening]))
+    lines = [f"machine {numeral(machine.inputs)} {numeral(machine.outputs)} {machine.lead}"]
+    lines.append(" ".join(["opening"] + [numeral(letter) for letter in machine.opening]))
     for row in machine.rows:
-        lines.append(" ".join([f"{target}/{letter}" for target, letter in row]))
+        lines.append(" ".join([f"{numeral(target)}/{numeral(letter)}" for target, letter in row]))
     return "\n".join(lines) + "\n"
 
 
@@ -32,7 +32,7 @@ def read_numeral(word):
     """The number that a word writes."""
     if not is_number(word):
         raise MachineSyntaxError("a word is no number")
-    return int(word)
+    return number_in(word)
 
 
 def read_sizes(line):
