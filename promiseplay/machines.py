@@ -47,11 +47,10 @@ def are_below(numbers, count):
     return min(numbers, default=0) >= 0 and max(numbers, default=0) < count
 
 
-def emitted_word(machine, lasso):
-    """The head and the loop, as lists, of what the machine emits when it hears a lasso."""
+def emitted_word(machine, state, lasso):
+    """The head and the loop, as lists, of what the machine emits from a state on when it hears a lasso."""
     head, loop = lasso
     letters = []
-    state = 0
     for letter in head:
         state, emitted = machine.rows[state][letter]
         letters.append(emitted)
@@ -68,7 +67,12 @@ def emitted_word(machine, lasso):
 def respond(machine, lasso):
     """The lasso of the word that the machine says when it hears the word of a lasso."""
     check_letters(lasso, machine.inputs)
-    head, loop = emitted_word(machine, lasso)
+    head, loop = emitted_word(machine, 0, lasso)
+    return said_word(machine, head, loop)
+
+
+def said_word(machine, head, loop):
+    """The lasso of what is said with the lead and the opening of a machine; head and loop are what is emitted."""
     if machine.lead > 0:
         return suffix((tuple(head), tuple(loop)), machine.lead)
     return normal_lasso(list(machine.opening) + head, loop)

@@ -243,10 +243,14 @@ class Interface(unittest.TestCase):
         "paying": "PricedVerdict synthesize_priced money_trouble is_short",
         "faults": "fault_trouble borne true_word synthesize_bearing",
         "reasons": "share cores keepable_parts helps is_honest",
-        "circuits": "Circuit circuit_of machine_of first_difference_of",
+        "circuits": "Circuit circuit_of machine_of first_difference_of", "tidying": "is_tidy tidied",
+        "circuittext": "format_circuit parse_circuit", "watches": "Table watch forecast patience machine_watch",
+        "joint": "joined joint_system", "switching": "safe_pairs switch_trouble switched alike_pairs",
+        "shields": "is_safe freedom Shield", "simpler": "is_simple simplified", "workshop": "Workshop replayed rescued",
     }
     METHODS = {("machines", "Machine"): "__call__", ("specs", "Spec"): "signals", ("monitors", "Monitor"): "verdict read",
-               ("journals", "Journal"): "hear said", ("circuits", "Circuit"): "__call__"}
+               ("journals", "Journal"): "hear said", ("circuits", "Circuit"): "__call__",
+               ("shields", "Shield"): "say", ("workshop", "Workshop"): "answer journal"}
     PROPERTIES = "signals verdict said"
 
     def test_names_are_defined_in_their_files(self):
