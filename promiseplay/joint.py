@@ -55,8 +55,7 @@ def joined(spec, shares, pair):
             target = places.number_of((steps[0][0], steps[1][0]))
             row.append((target, hands[0].says[steps[0][1]] + hands[1].says[steps[1][1]]))
         rows.append(row)
-    openings = zip(pair[0].opening, pair[1].opening)
-    opening = [hands[0].says[one] + hands[1].says[other] for one, other in openings]
+    opening = [hands[0].says[one] + hands[1].says[other] for one, other in zip(pair[0].opening, pair[1].opening)]
     return Machine(1 << len(spec.inputs), 1 << len(spec.outputs), spec.lead, opening, rows)
 
 

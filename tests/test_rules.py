@@ -2,6 +2,7 @@
 
 import ast
 import builtins
+import functools
 import pathlib
 import re
 import unittest
@@ -29,6 +30,7 @@ FORBIDDEN_WORDS = re.compile(r"\b(type|typing|typing_extensions|enum|Enum|IntEnu
                              r"dataclass|overload|contextmanager|_wall|_WallAttr")
 
 
+@functools.lru_cache(maxsize=None)
 def modules():
     return {path.stem: (path.read_text(encoding="utf-8"), ast.parse(path.read_text(encoding="utf-8")))
             for path in sorted(PACKAGE.glob("*.py"))}

@@ -86,11 +86,11 @@ class Smallest(unittest.TestCase):
     def test_all_machines_with_fewer_states_are_broken(self):
         chance = random.Random(4)
         looked = {1: 0, 2: 0}
-        while min(looked.values()) < 6:
+        while min(looked.values()) < 3:
             spec = lively_spec(chance, 1, 1, lead=chance.randint(-1, 2), most=2)
             if synthesize(spec).realizable:
                 for limit in (1, 2):
-                    if looked[limit] < 6 and smallest_system(spec, limit) is None:
+                    if looked[limit] < 3 and smallest_system(spec, limit) is None:
                         self.check_fewer(spec, limit)
                         looked[limit] += 1
 
