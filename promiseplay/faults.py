@@ -3,10 +3,10 @@
 from promiseplay.conditions import spec_judge
 from promiseplay.courses import check_system, course_of
 from promiseplay.guesses import guessed_word
+from promiseplay.mistakes import bearing_judge
 from promiseplay.places import Places
 from promiseplay.ranked import find_ranked
 from promiseplay.synthesis import decided
-from promiseplay.unseen import bearing_judge
 from promiseplay.words import check_letters, normal_lasso
 
 
