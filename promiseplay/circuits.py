@@ -1,7 +1,7 @@
 """Circuits of gates and latches."""
 
 from promiseplay.errors import InvalidCircuit, InvalidLetter, Mismatch
-from promiseplay.gates import Decisions, Gates
+from promiseplay.gates import ZERO, Decisions, Gates
 from promiseplay.machines import Machine, are_below
 from promiseplay.minimization import first_separating, minimize
 from promiseplay.places import Places
@@ -125,15 +125,25 @@ def circuit_of(machine):
         raise Mismatch("the machine has too many states")
     wires = digits_for(machine.inputs, MOST_WIRES)
     outs = digits_for(machine.outputs, MOST_OUTS)
+    found = circuit_parts(machine, wires, latches, outs)
+    if len(found[0]) > MOST_GATES:
+        # With fewer states, and with other numbers for them, it may need fewer gates.
+        found = circuit_parts(minimize(machine), wires, latches, outs)
+    gates, nexts, told = found
+    return Circuit(wires, [0] * latches, gates, nexts + [ZERO] * (latches - len(nexts)), told)
+
+
+def circuit_parts(machine, wires, latches, outs):
+    """The gates of a machine with so many latches, the literals of the nexts that it needs, and those of the outs."""
     heard = list(range(1, wires + 1))
-    held = list(range(wires + 1, wires + latches + 1))
+    held = list(range(wires + 1, wires + latches_of(machine) + 1))
     best = None
     for order in (heard + held, held + heard, heard + held[::-1]):
-        found = circuit_with(machine, wires, outs, order)
-        if best is None or len(found[0]) < len(best[0]):
-            best = found
-    gates, literals = best
-    return Circuit(wires, [0] * latches, gates, literals[:latches], literals[latches:])
+        gates = Gates(1 + wires + latches)
+        nexts, told = literals_of(machine, gates, wires, outs, order)
+        if best is None or len(gates.row) < len(best[0]):
+            best = (gates.row, nexts, told)
+    return best
 
 
 def digits_for(letters, most):
@@ -144,13 +154,12 @@ def digits_for(letters, most):
     return digits
 
 
-def circuit_with(machine, wires, outs, order):
-    """The gates of a machine, and the literals of its nexts and outs.
+def literals_of(machine, gates, wires, outs, order):
+    """The literals of the nexts and those of the outs of a machine, over some gates.
 
     The values of the nodes are looked at one after the other, those in order from the last one on.
     """
     latches = len(order) - wires
-    gates = Gates(1 + len(order))
     decisions = Decisions(gates, [2 * node for node in order])
     steps = []
     for case in range(1 << len(order)):
@@ -161,12 +170,13 @@ def circuit_with(machine, wires, outs, order):
         if state >= len(machine.rows):
             state -= 1 << (latches - 1)
         steps.append(machine.rows[state][letter])
-    literals = []
+    nexts = []
     for k in range(latches):
-        literals.append(decisions.literal_of(number_of([(target >> k) & 1 for target, _ in steps])))
+        nexts.append(decisions.literal_of(number_of([(target >> k) & 1 for target, _ in steps])))
+    told = []
     for k in range(outs):
-        literals.append(decisions.literal_of(number_of([(letter >> k) & 1 for _, letter in steps])))
-    return gates.row, literals
+        told.append(decisions.literal_of(number_of([(letter >> k) & 1 for _, letter in steps])))
+    return nexts, told
 
 
 def machine_of(circuit, lead, opening):

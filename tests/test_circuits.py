@@ -130,6 +130,28 @@ class OfMachines(unittest.TestCase):
             circuit_of(Machine(1, 2, 0, [], ring + [[(0, 0)]]))
         self.assertEqual(len(circuit_of(Machine(1, 2, 0, [], ring[:2047] + [[(0, 0)]])).starts), 11)
 
+    def test_many_states(self):
+        chance = random.Random(6)
+        drawn = [[(chance.randrange(4096), 0) for _ in range(4)] for _ in range(4096)]
+        circuit = circuit_of(Machine(4, 64, 0, [], drawn))
+        self.assertEqual((len(circuit.starts), len(circuit.outs)), (12, 6))
+        self.assertEqual(circuit([chance.randrange(4) for _ in range(20)]), [0] * 20)
+        # A ring whose states have numbers without order, and some states that are never reached.
+        for size in [2049, 4096]:
+            order = list(range(1, size))
+            chance.shuffle(order)
+            order = [0] + order
+            rows = [None] * size
+            for k, state in enumerate(order[:700]):
+                rows[state] = [(order[(k + 1) % 700], 1 if k == 699 else 0), (0, 0)]
+            for state in order[700:]:
+                rows[state] = [(chance.randrange(size), chance.randrange(2)) for _ in range(2)]
+            machine = Machine(2, 2, 0, [], rows)
+            circuit = circuit_of(machine)
+            self.assertEqual((circuit.wires, len(circuit.starts), len(circuit.outs)), (1, 12, 1))
+            self.assertEqual(circuit([0] * 700), [0] * 699 + [1])
+            self.assertIsNone(first_difference_of(circuit, machine))
+
 
 class Machines(unittest.TestCase):
     def test_drawn_circuits(self):
